@@ -1,0 +1,1 @@
+"""Leastneeds: a small language whose functions are chosen by kinds."""

@@ -1,0 +1,89 @@
+"""Programs: declarations that belong together."""
+
+from leastneeds.book import Book
+from leastneeds.checks import check_arms, check_forms, check_names, check_repeats, checked_shapes
+from leastneeds.deriving import with_needs, with_no_needs
+from leastneeds.errors import UnknownName
+from leastneeds.rules import (
+    check_clashes,
+    check_cover,
+    check_growth,
+    check_members,
+    check_rings,
+    check_steadiness,
+    check_support,
+)
+
+
+class Program:
+    """The declarations of a program, with the built-in ones beside them."""
+
+    def __init__(self, *declarations, picks=()):
+        self.book = checked_book(declarations, picks)
+        self.declarations = declarations
+        self.picks = tuple(picks)
+
+    @classmethod
+    def of(cls, declarations, *, picks=()):
+        """The program of a sequence of declarations."""
+        return cls(*declarations, picks=picks)
+
+    def __eq__(self, other):
+        return (
+            isinstance(other, Program)
+            and self.declarations == other.declarations
+            and self.picks == other.picks
+        )
+
+    def with_more(self, *declarations):
+        """The program with these declarations behind its own."""
+        every = self.declarations + declarations
+        return Program(*every, picks=self.picks)
+
+    def data_named(self, name):
+        """The data with this name."""
+        return named_in(self.book.data, name)
+
+    def role_named(self, name):
+        """The role with this name."""
+        return named_in(self.book.roles, name)
+
+    def case_named(self, name):
+        """The case with this name; for a derive the case that it stands for."""
+        return named_in(self.book.cases, name)
+
+    def definition_named(self, name):
+        """The definition with this name."""
+        return named_in(self.book.definitions, name)
+
+    def cases_of(self, role):
+        """The names of all cases of a role, ascending."""
+        named_in(self.book.roles, role)
+        return tuple(sorted([case.name for case in self.book.cases_at(role)]))
+
+
+def named_in(table, name):
+    """What a dict has for a name; UnknownName for any value that is none of its names."""
+    if not isinstance(name, str) or name not in table:
+        raise UnknownName(name)
+    return table[name]
+
+
+def checked_book(declarations, picks):
+    """The book of the declarations of a program; the first error if something is wrong with them."""
+    check_forms(declarations, picks)
+    check_repeats(declarations)
+    names = Book(declarations, ())
+    check_names(names, declarations, picks)
+    check_arms(names, declarations)
+    plain = with_no_needs(names, declarations)
+    plain.shapes = checked_shapes(plain, declarations, picks)
+    check_rings(plain, declarations)
+    check_members(plain, declarations)
+    check_growth(declarations)
+    check_cover(plain, declarations)
+    check_clashes(plain, declarations)
+    book = with_needs(plain, declarations)
+    check_support(book, declarations)
+    check_steadiness(book, declarations)
+    return book

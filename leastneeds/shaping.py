@@ -1,0 +1,114 @@
+"""Finding the least shapes of the places of all roles."""
+
+from leastneeds.declarations import Case, Data, Definition, Role
+from leastneeds.kinds import spine_of
+
+# The node of what is whole: its shape is 0.
+WHOLE = ("whole",)
+
+
+class Shaping:
+    """Shapes that are not known yet, as nodes, with their differences."""
+
+    def __init__(self, book):
+        self.book = book
+        # A node that is known by another one, with what its shape has more than that one.
+        self.above = {}
+        # The least shape beside a node among those that are known by it.
+        self.lows = {}
+
+    def root_of(self, node):
+        """The node by which this one is known, and how much more its shape is."""
+        more = 0
+        while node in self.above:
+            node, step = self.above[node]
+            more += step
+        return node, more
+
+    def join(self, node, other, more):
+        """Make the shape of a node so much more than that of the other; whether this can be."""
+        root, above = self.root_of(node)
+        other_root, other_above = self.root_of(other)
+        step = other_above + more - above
+        if root == other_root:
+            return step == 0
+        self.above[root] = (other_root, step)
+        low = self.lows.get(root, 0) + step
+        self.lows[other_root] = min(self.lows.get(other_root, 0), low)
+        whole_root, whole_above = self.root_of(WHOLE)
+        return self.lows.get(whole_root, 0) >= whole_above
+
+    def least(self, node):
+        """The least shape of a node."""
+        root, more = self.root_of(node)
+        whole_root, whole_above = self.root_of(WHOLE)
+        if root == whole_root:
+            return more - whole_above
+        return more - self.lows.get(root, 0)
+
+    def add_kind(self, kind, node, owner):
+        """Let a kind have the shape of a node; whether this can be."""
+        waiting = [(kind, node)]
+        while waiting:
+            part, place = waiting.pop()
+            head, parts = spine_of(part)
+            waiting.extend([(inner, WHOLE) for inner in parts])
+            if head[0] == "con":
+                fine = self.join(place, WHOLE, self.book.lacks[head[1]] - len(parts))
+            else:
+                fine = self.join(owner.node_of(head[1]), place, len(parts))
+            if not fine:
+                return False
+        return True
+
+    def add_need(self, need, owner):
+        """Let the kinds of a need have the shapes of the places of its role; whether this can be."""
+        if len(need) - 1 != len(self.book.roles[need[0]].variables):
+            return False
+        return all([self.add_kind(kind, ("place", need[0], k), owner) for k, kind in enumerate(need[1:])])
+
+    def add_scheme(self, kind, needs, owner):
+        """Let a kind be whole, and needs have their shapes; whether this can be."""
+        if not self.add_kind(kind, WHOLE, owner):
+            return False
+        return all([self.add_need(need, owner) for need in needs])
+
+    def add(self, index, declaration):
+        """Add what the declaration with this index tells of shapes; whether there are any then."""
+        owner = Owner(("own", index), {})
+        if isinstance(declaration, Data):
+            return self.add_data(declaration)
+        if isinstance(declaration, Role):
+            return self.add_role(index, declaration)
+        if isinstance(declaration, Case):
+            head = (declaration.role,) + declaration.kinds
+            return all([self.add_need(need, owner) for need in (head,) + declaration.needs])
+        if isinstance(declaration, Definition) and declaration.told is not None:
+            return self.add_scheme(declaration.told.kind, declaration.told.needs, owner)
+        return True
+
+    def add_data(self, data):
+        owner = Owner(("data",), {name: WHOLE for name in data.variables})
+        fields = [kind for _, kinds in data.constructors for kind in kinds]
+        return all([self.add_kind(kind, WHOLE, owner) for kind in fields])
+
+    def add_role(self, index, role):
+        shared = {name: ("place", role.name, k) for k, name in enumerate(role.variables)}
+        owner = Owner(("own", index), shared)
+        if not all([self.add_need(need, owner) for need in role.above]):
+            return False
+        for name, kind, needs, _ in role.members:
+            if not self.add_scheme(kind, needs, Owner(("member", index, name), shared)):
+                return False
+        return True
+
+
+class Owner:
+    """Tells the nodes of the variables of a declaration, or of a member."""
+
+    def __init__(self, key, shared):
+        self.key = key
+        self.shared = shared
+
+    def node_of(self, name):
+        return self.shared.get(name, self.key + (name,))
