@@ -17,11 +17,12 @@ def folders_with_tests(top):
 
 
 def run(folder):
-    # Each folder has a loader of its own, so that files of one name in two folders are two tests.
-    for name in [name for name in sys.modules if name.startswith("test_")]:
-        del sys.modules[name]
     suite = unittest.TestLoader().discover(folder, pattern="test_*.py", top_level_dir=folder)
     result = unittest.TextTestRunner(stream=sys.stdout).run(suite)
+    # Another folder may have files of the same names, so those of this one are forgotten.
+    for name, module in list(sys.modules.items()):
+        if (getattr(module, "__file__", None) or "").startswith(folder + os.sep):
+            del sys.modules[name]
     bad = len(result.failures) + len(result.errors) + len(result.unexpectedSuccesses)
     return result.testsRun, bad
 

@@ -87,10 +87,15 @@ def met_in(plan, chart):
     return found
 
 
-def meets_all(book, needs, others):
+def is_met(book, chart, need):
+    """Whether a need is met in a chart."""
+    return met_in(plan_of(book, need), chart)[need_text(need)]
+
+
+def are_met(book, needs, others):
     """Whether a context of needs meets all others."""
     chart = chart_of(book, needs)
-    return all([met_in(plan_of(book, other), chart)[need_text(other)] for other in others])
+    return all([is_met(book, chart, other) for other in others])
 
 
 def first_paper(plan, chart):

@@ -161,9 +161,9 @@ def checked_shapes(book, declarations, picks):
     """The least shapes of all roles; Misshapen for the first declaration with which there are none."""
     shaping = Shaping(book)
     for declaration in basic_declarations():
-        shaping.add(-1, declaration)
+        shaping.take(-1, declaration)
     for index, declaration in enumerate(declarations):
-        if not shaping.add(index, declaration):
+        if not shaping.take(index, declaration):
             raise Misshapen(index)
     if not are_shaped(book, [(kind, 0) for kind in picks]):
         raise Misshapen(len(declarations))

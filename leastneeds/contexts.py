@@ -1,6 +1,6 @@
 """Improving needs, the least context of needs, and needs for which there is no hope."""
 
-from leastneeds.charts import meets_all
+from leastneeds.charts import are_met
 from leastneeds.improvement import improved, is_hopeless, least_of
 
 
@@ -11,7 +11,7 @@ def improving(program, needs, given=(), fixed=()):
 
 def entails(program, one, other):
     """Whether a context meets each need of another one."""
-    return meets_all(program.book, one, other)
+    return are_met(program.book, one, other)
 
 
 def least(program, needs):

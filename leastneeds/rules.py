@@ -1,6 +1,6 @@
 """What is asked of the roles and cases of a program, and of all of its needs."""
 
-from leastneeds.charts import meets_all, needs_above
+from leastneeds.charts import are_met, needs_above
 from leastneeds.declarations import Case, Definition, Derive, Role
 from leastneeds.errors import BadMembers, Clash, Grows, Improper, RoleRing, Uncovered, Unsupported
 from leastneeds.improvement import is_hopeless, is_steady, kinds_apart
@@ -102,7 +102,7 @@ def check_support(book, declarations):
         if isinstance(declaration, (Case, Derive)):
             case = book.cases[declaration.name]
             for number, need in enumerate(needs_above(book, (case.role,) + case.kinds)):
-                if not meets_all(book, case.needs, [need]):
+                if not are_met(book, case.needs, [need]):
                     raise Unsupported(index, number)
 
 

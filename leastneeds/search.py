@@ -1,6 +1,6 @@
 """Contexts: sequences of needs that are there, and the papers for the needs that they meet."""
 
-from leastneeds.charts import chart_of, first_paper, lacking_needs, met_in, plan_of
+from leastneeds.charts import chart_of, first_paper, is_met, lacking_needs, plan_of
 from leastneeds.errors import InvalidNeed
 from leastneeds.needs import need_text
 from leastneeds.shapes import is_need_in
@@ -37,17 +37,13 @@ class Context:
     def meets(self, need):
         """Whether a need is met."""
         check_need(self.program, need)
-        return self.meets_checked(need)
-
-    def meets_checked(self, need):
-        """Whether a need of the program is met."""
-        return met_in(plan_of(self.program.book, need), self.chart)[need_text(need)]
+        return is_met(self.program.book, self.chart, need)
 
     def is_met_by(self, other):
         """Whether another context meets each need of this one."""
         for need in self.needs:
             check_need(other.program, need)
-        return all([other.meets_checked(need) for need in self.needs])
+        return all([is_met(other.program.book, other.chart, need) for need in self.needs])
 
     def joined(self, other):
         """The context of the needs of both, in order."""

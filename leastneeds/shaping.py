@@ -46,7 +46,7 @@ class Shaping:
             return more - whole_above
         return more - self.lows.get(root, 0)
 
-    def add_kind(self, kind, node, owner):
+    def take_kind(self, kind, node, owner):
         """Let a kind have the shape of a node; whether this can be."""
         waiting = [(kind, node)]
         while waiting:
@@ -61,44 +61,44 @@ class Shaping:
                 return False
         return True
 
-    def add_need(self, need, owner):
+    def take_need(self, need, owner):
         """Let the kinds of a need have the shapes of the places of its role; whether this can be."""
         if len(need) - 1 != len(self.book.roles[need[0]].variables):
             return False
-        return all([self.add_kind(kind, ("place", need[0], k), owner) for k, kind in enumerate(need[1:])])
+        return all([self.take_kind(kind, ("place", need[0], k), owner) for k, kind in enumerate(need[1:])])
 
-    def add_scheme(self, kind, needs, owner):
+    def take_scheme(self, kind, needs, owner):
         """Let a kind be whole, and needs have their shapes; whether this can be."""
-        if not self.add_kind(kind, WHOLE, owner):
+        if not self.take_kind(kind, WHOLE, owner):
             return False
-        return all([self.add_need(need, owner) for need in needs])
+        return all([self.take_need(need, owner) for need in needs])
 
-    def add(self, index, declaration):
-        """Add what the declaration with this index tells of shapes; whether there are any then."""
+    def take(self, index, declaration):
+        """Take what the declaration with this index tells of shapes; whether there are any then."""
         owner = Owner(("own", index), {})
         if isinstance(declaration, Data):
-            return self.add_data(declaration)
+            return self.take_data(declaration)
         if isinstance(declaration, Role):
-            return self.add_role(index, declaration)
+            return self.take_role(index, declaration)
         if isinstance(declaration, Case):
             head = (declaration.role,) + declaration.kinds
-            return all([self.add_need(need, owner) for need in (head,) + declaration.needs])
+            return all([self.take_need(need, owner) for need in (head,) + declaration.needs])
         if isinstance(declaration, Definition) and declaration.told is not None:
-            return self.add_scheme(declaration.told.kind, declaration.told.needs, owner)
+            return self.take_scheme(declaration.told.kind, declaration.told.needs, owner)
         return True
 
-    def add_data(self, data):
+    def take_data(self, data):
         owner = Owner(("data",), {name: WHOLE for name in data.variables})
         fields = [kind for _, kinds in data.constructors for kind in kinds]
-        return all([self.add_kind(kind, WHOLE, owner) for kind in fields])
+        return all([self.take_kind(kind, WHOLE, owner) for kind in fields])
 
-    def add_role(self, index, role):
+    def take_role(self, index, role):
         shared = {name: ("place", role.name, k) for k, name in enumerate(role.variables)}
         owner = Owner(("own", index), shared)
-        if not all([self.add_need(need, owner) for need in role.above]):
+        if not all([self.take_need(need, owner) for need in role.above]):
             return False
         for name, kind, needs, _ in role.members:
-            if not self.add_scheme(kind, needs, Owner(("member", index, name), shared)):
+            if not self.take_scheme(kind, needs, Owner(("member", index, name), shared)):
                 return False
         return True
 

@@ -197,6 +197,7 @@ class TestLanguage(unittest.TestCase):
             if isinstance(node.parent, ast.ClassDef):
                 stored.add(node.targets[0].id)
         self.assertEqual(methods & stored, set())
+        self.assertEqual((methods | stored) & {"add", "discard"}, set())
         self.assertEqual({word for word in stored if word in BUILTIN_ATTRIBUTES} - {"count", "index"}, set())
         for word, (path, node) in read.items():
             if word not in methods | stored | METHODS:
