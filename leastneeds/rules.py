@@ -20,7 +20,8 @@ def roles_above(book, name):
     found = {}
     waiting = [name]
     while waiting:
-        for need in book.roles[waiting.pop()].above:
+        role = book.roles[waiting.pop()]
+        for need in role.above:
             if need[0] not in found:
                 found[need[0]] = True
                 waiting.append(need[0])

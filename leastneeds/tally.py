@@ -73,25 +73,15 @@ class Tally:
     def given_paper(self, target, length, rank):
         """The paper "given" with this rank among those with a path so long."""
         ways = self.ways[target]
-        for index, word in enumerate(self.starts):
-            many = ways[length].get(word, 0)
-            if rank < many:
-                return ("given", index, self.path(ways[:length], word, rank))
-            rank -= many
-        return None
-
-    def path(self, ways, word, rank):
-        """The path with this rank from a need on, by the numbers of ways that are shorter."""
-        found = ()
-        for now in reversed(ways):
-            for step, other in self.exits[word]:
-                many = now.get(other, 0)
-                if rank < many:
-                    found = found + (step,)
-                    word = other
-                    break
-                rank -= many
-        return found
+        index, rank = chosen([ways[length].get(word, 0) for word in self.starts], rank)
+        word = self.starts[index]
+        path = ()
+        for now in reversed(ways[:length]):
+            exits = self.exits[word]
+            at, rank = chosen([now.get(other, 0) for _, other in exits], rank)
+            step, word = exits[at]
+            path = path + (step,)
+        return ("given", index, path)
 
     def inner_rows(self, word, size, rank):
         """What the papers in a paper are that has this rank among those by its case, a list.
@@ -101,16 +91,22 @@ class Tally:
         _, parts, rests = self.cases[word]
         found = []
         for k, part in enumerate(parts):
-            for part_size in sorted(self.numbers[part]):
-                each = rests[k + 1].get(size - part_size, 0)
-                many = self.numbers[part][part_size] * each
-                if rank < many:
-                    part_rank, rank = divmod(rank, each)
-                    found.append((part, part_size, part_rank))
-                    size -= part_size
-                    break
-                rank -= many
+            after = rests[k + 1]
+            sizes = [own for own in sorted(self.numbers[part]) if size - own in after]
+            at, rank = chosen([self.numbers[part][own] * after[size - own] for own in sizes], rank)
+            size -= sizes[at]
+            own_rank, rank = divmod(rank, after[size])
+            found.append((part, sizes[at], own_rank))
         return found
+
+
+def chosen(numbers, rank):
+    """The index of the number to which a rank leads, if each counts so many ranks, and the rank there."""
+    index = 0
+    while rank >= numbers[index]:
+        rank -= numbers[index]
+        index += 1
+    return index, rank
 
 
 def steps_in(book, chart):
