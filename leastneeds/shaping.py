@@ -40,10 +40,8 @@ class Shaping:
 
     def least(self, node):
         """The least shape of a node."""
+        # Of what is known by WHOLE nothing has less than WHOLE itself, so the least shape is 0 there, too.
         root, more = self.root_of(node)
-        whole_root, whole_above = self.root_of(WHOLE)
-        if root == whole_root:
-            return more - whole_above
         return more - self.lows.get(root, 0)
 
     def take_kind(self, kind, node, owner):

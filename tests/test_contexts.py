@@ -304,6 +304,7 @@ class TestSteady(unittest.TestCase):
         self.assertEqual(set(known_by(book, [A], [("turns", A, B), ("turns", pair(A, B), C)])), {"a", "b", "c"})
         self.assertEqual(set(known_by(book, [A], [("turns", pair(B, C), D), ("turns", A, B)])), {"a", "b"})
         self.assertEqual(set(known_by(book, [B], [("turns", A, B)])), {"b"})
+        self.assertEqual(set(known_by(book, [C], [("back", A, B)])), {"c"})
         self.assertEqual(set(known_by(book, [B], [("back", A, B), ("over", A, listed(C))])), {"a", "b", "c"})
         self.assertEqual(set(known_by(book, [WHOLE], [("turns", TEXT, A)])), {"a"})
         self.assertEqual(set(known_by(book, [A], [("loose", listed(A), B)])), {"a", "b"})

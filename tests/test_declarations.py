@@ -89,7 +89,7 @@ class TestForms(unittest.TestCase):
         ):
             self.wrong("members", Role, "r", ("a", "b"), value, above=None, settles=None)
         for value in NO_ROWS + (
-            [("r", A)], [("same", WHOLE)], [("same", C)], [("two", A, A)], [("same", A), ("same", A)], [["same", A]], [("same",)],
+            [("r", A)], [("same", WHOLE)], [("same", con("a"))], [("same", C)], [("two", A, A)], [("same", A), ("same", A)], [["same", A]], [("same",)],
             [("same", con("list", A))], [("same", A, B, C)], [None], many(101, lambda x: (x, A)), [("as", A)],
         ):
             self.wrong("above", Role, "r", ("a", "b"), fine, above=value, settles=None)
@@ -107,7 +107,7 @@ class TestForms(unittest.TestCase):
                 self.wrong("settles", Role, "r", ("a",), fine, settles=settles)
         self.assertEqual(Role("r", ("a",), fine, settles=[]).settles, ())
         for value in NO_ROWS + (
-            ((1, 0), (0, 1)), ((0, 1), (0, 1)), ((0, 0),), ((1, 1),), ((0, 2),), ((False, True),), ((True, False),), ([0, 1],),
+            ((1, 0), (0, 1)), ((0, 1), (0, 1)), ((0, 0),), ((1, 1),), ((0, 2),), ((False, True),), ((True, False),), ((0, True),), ((False, 1),), ((0, 1), (1, False)), ([0, 1],),
             ((0, 1, 0),), (0, 1), ((0,),), ((0, None),), (("0", "1"),), ((0, 1), (1, 0), (0, 1)), ((0, 1), (True, 0)), (None,),
         ):
             self.wrong("settles", Role, "r", ("a", "b"), fine, settles=value)

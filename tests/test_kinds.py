@@ -70,7 +70,7 @@ class TestIsKind(unittest.TestCase):
             None, True, 0, 10**99, "a", "", (), [], {}, ("var",), ("con",), ("apply",), ("var", "a", "b"), ["var", "a"],
             ("var", "A"), ("con", "data"), ("var", "abcdefghi"), ("con", ""), ("con", 1), ("con", ("con", "a")),
             ("apply", A), ("apply", A, B, C), ("apply", A, ["var", "a"]), ["apply", A, B], ("apply", "list", A),
-            ("apply", A, None), ("kind", "a"), (None, "a"), ([], "a"), Scheme(A), ("apply", Scheme(A), A),
+            ("apply", A, None), ("pair", A, B), ("var", A, B), ("con", A, B), ("kind", "a"), (None, "a"), ([], "a"), Scheme(A), ("apply", Scheme(A), A),
             ("var", ["a"]), ({}, {}), (True, "a"),
         ):
             self.assertIs(is_kind(value), False, value)
@@ -137,6 +137,8 @@ class TestText(unittest.TestCase):
         self.check(to(con("to", A), con("to", B)), "to 'a -> to 'b")
         self.check(con("list", con("to", A, B, C)), "list ( ( 'a -> 'b ) 'c )")
         self.check(("apply", var("f"), ("apply", var("g"), A)), "'f ( 'g 'a )")
+        self.check(to(con("pair", A, B), C), "pair 'a 'b -> 'c")
+        self.check(to(("apply", ("apply", var("f"), A), B), C), "'f 'a 'b -> 'c")
         self.check(con("pair", con("list", A), con("none")), "pair ( list 'a ) none")
 
 

@@ -194,6 +194,12 @@ class TestProgram(unittest.TestCase):
         Program(*rows, case("e", "q", [pair(WHOLE, TEXT), TEXT]))
         self.wrong(Clash(2, 1), role("r"), case("c", "r", [to(A, WHOLE)]), case("d", "r", [to(TEXT, A)]))
 
+    def test_first_clash(self):
+        rows = [LIST, role("r"), Derive("d", "same", "list"), Derive("e", "same", "list")]
+        self.wrong(Clash(3, 2), *rows, case("c", "r", [WHOLE]), case("b", "r", [WHOLE]))
+        rows = [LIST, role("r"), case("c", "r", [WHOLE]), Derive("d", "same", "list"), case("b", "r", [TEXT])]
+        self.wrong(Clash(5, 3), *rows, Derive("e", "same", "list"), case("g", "r", [WHOLE]))
+
     def test_clash_of_settling_roles(self):
         for settles, clashes in (((), False), (((0, 1),), True), (((1, 0),), False), (((0, 1), (1, 0)), True)):
             rows = [PAIR, role("q", variables=TWO, settles=settles), case("c", "q", [pair(WHOLE, WHOLE), WHOLE])]
@@ -328,6 +334,17 @@ class TestDerives(unittest.TestCase):
             program.case_named("e").members,
             (("atmost", matched(yes, no, compared("atmost", "b"), compared("atmost", "a"))),),
         )
+        three = Data("three", (), [("three", (WHOLE, TEXT, TRUTH))])
+        program_of_three = Program(three, Derive("d", "same", "three"), Derive("e", "order", "three"))
+        between = compared("alike", "b")
+        for name, word, like in (("d", "alike", lambda letter: no), ("e", "atmost", lambda letter: compared("atmost", letter))):
+            last = compared(word, "c")
+            inner = ("match", between, (("no", (), like("b")), ("yes", (), last)))
+            inner = ("match", compared("alike", "a"), (("no", (), like("a")), ("yes", (), inner)))
+            body = ("match", ("name", "other"), (("three", ("ba", "bb", "bc"), inner),))
+            body = ("match", ("name", "one"), (("three", ("aa", "ab", "ac"), body),))
+            told = ("given", "one", ("given", "other", body))
+            self.assertEqual(program_of_three.case_named(name).members, ((word, told),))
         term = ("text", "cons (")
         for part in (("use", ("name", "shown"), ("name", "aa")), ("text", ") ("), ("use", ("name", "shown"), ("name", "ab")), ("text", ")")):
             term = ("use", ("use", ("name", "join"), term), part)

@@ -99,6 +99,9 @@ class TestEquality(unittest.TestCase):
     def test_not_equal(self):
         for one, other in (
             (Scheme(A), Scheme(WHOLE)),
+            (Scheme(WHOLE), Scheme(con("text"))),
+            (Scheme(to(A, B, A)), Scheme(to(A, B, B))),
+            (Scheme(to(A, B, A), same(B)), Scheme(to(A, A, B), same(B))),
             (Scheme(to(A, B)), Scheme(to(A, A))),
             (Scheme(A, same(A)), Scheme(A)),
             (Scheme(A, same(A)), Scheme(A, ("order", A))),
@@ -132,6 +135,23 @@ class TestEquality(unittest.TestCase):
         random.Random(2).shuffle(shuffled)
         renamed = Scheme.under(A, shuffled).named()
         self.assertTrue(Scheme(A, *one) == renamed)
+
+    def wheel(self, *steps):
+        """Needs in which all of eight variables look alike; a role for each number of steps."""
+        words = letters(8)
+        return [(role, var(words[k]), var(words[(k + step) % 8])) for k in range(8) for role, step in steps]
+
+    def test_wheels_of_needs(self):
+        one = self.wheel(("same", 1), ("same", 2))
+        other = self.wheel(("same", 1), ("same", 3))
+        self.assertFalse(Scheme(A, *one) == Scheme(A, *other))
+        for needs in (one, other):
+            random.Random(3).shuffle(needs)
+            self.assertTrue(Scheme(A, *needs) == Scheme.under(A, needs[::-1]).named())
+        one = self.wheel(("same", 1), ("order", 2))
+        other = self.wheel(("order", 1), ("same", 2))
+        self.assertFalse(Scheme(A, *one) == Scheme(A, *other))
+        self.assertTrue(Scheme(A, *one) == Scheme(B, *one[::-1]).named())
 
     def test_many_needs(self):
         words = letters(100)

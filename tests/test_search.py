@@ -218,6 +218,15 @@ class TestContext(unittest.TestCase):
         )
         self.assertEqual(list(context.papers(("side", A))), [])
 
+    def test_order_of_inner_papers(self):
+        # The inner need has papers by a case that are smaller than those that are given.
+        needs = [("top", listed(WHOLE))]
+        need = ("low", pair(listed(WHOLE), listed(WHOLE)))
+        papers = sorted(all_papers(self.program, needs, need), key=rank)
+        self.assertEqual(list(Context(self.program, *needs).papers(need)), papers)
+        self.assertEqual([inner[0] for inner in papers[0][2]], ["case", "case"])
+        self.assertEqual([inner[0] for inner in papers[1][2]], ["case", "given"])
+
     def test_papers_of_derived_cases(self):
         program = Program(LIST, Derive("slist", "same", "list"), Derive("olist", "order", "list"))
         context = Context(program, ("order", listed(A)))

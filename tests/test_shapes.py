@@ -125,6 +125,20 @@ class TestShapesOf(unittest.TestCase):
         ring = Role("ring", TWO, [("g", kind, [("ring", A, used(B, A))], None)], settles=((0, 1),))
         self.misshapen(0, ring)
 
+    def test_least_of_places_apart(self):
+        # A variable of two shapes more than one place and one more than another: the other has one more.
+        kind = to(A, WHOLE)
+        more = role("more", variables=TWO, settles=((0, 1),), kind=kind)
+        for needs in ([("link", A, used(B, A, A)), ("more", A, used(B, A))], [("more", A, used(B, A)), ("link", A, used(B, A, A))]):
+            third = Role("third", TWO, [("t", kind, needs, None)], settles=((0, 1),))
+            for rows in ((LINK, more, third), (third, more, LINK)):
+                self.assertEqual([self.shapes(name, *rows) for name in ("link", "more", "third")], [(0, 0), (0, 1), (0, 2)])
+        fixed = role("fixed", ("link", A, B), variables=TWO, kind=to(A, used(B, A, A)))
+        self.assertEqual([self.shapes(name, LINK, more, third, fixed) for name in ("link", "more", "third")], [(0, 2), (0, 3), (0, 4)])
+        flat = role("flat", ("more", A, B), variables=TWO)
+        self.misshapen(3, LINK, more, third, flat)
+        self.misshapen(3, flat, more, LINK, third)
+
     def test_cases_tell_shapes_too(self):
         self.assertEqual(self.shapes("link", LINK, LIST, case("c", "link", [WHOLE, con("list")])), (0, 1))
         self.assertEqual(self.shapes("link", LINK, PAIR, case("c", "link", [WHOLE, con("pair")])), (0, 2))

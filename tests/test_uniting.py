@@ -56,6 +56,11 @@ class TestUnite(unittest.TestCase):
         self.assertEqual(unite([(("apply", F, A), listed(WHOLE))]), {"f": con("list"), "a": WHOLE})
         self.assertEqual(unite([(("apply", F, A), to(B, WHOLE))]), {"f": con("to", B), "a": WHOLE})
 
+    def test_constructors_and_variables_of_one_name(self):
+        self.assertIsNone(unite([(A, WHOLE), (con("a"), WHOLE)]))
+        self.assertEqual(unite([(A, WHOLE), (B, con("a"))]), {"a": WHOLE, "b": con("a")})
+        self.assertEqual(unite([(B, listed(A)), (A, con("b"))]), {"a": con("b"), "b": listed(con("b"))})
+
     def test_chains(self):
         by = self.check([(A, listed(B)), (B, listed(C)), (C, WHOLE)])
         self.assertEqual(by["a"], listed(listed(WHOLE)))
