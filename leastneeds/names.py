@@ -54,11 +54,16 @@ def letters_at(index):
 
 def first_names(count):
     """So many names, a tuple: the first ones of a, b, .. z, aa, ab, .. that are names."""
+    return names_beside(count, ())
+
+
+def names_beside(count, taken):
+    """So many names, a tuple: the first ones of a, b, .. z, aa, ab, .. that are names and not taken."""
     found = []
     index = 0
     while len(found) < count:
         word = letters_at(index)
-        if is_name(word):
+        if is_name(word) and word not in taken:
             found.append(word)
         index += 1
     return tuple(found)

@@ -4,6 +4,8 @@ from leastneeds.book import Book
 from leastneeds.checks import check_arms, check_forms, check_names, check_repeats, checked_shapes
 from leastneeds.deriving import with_needs, with_no_needs
 from leastneeds.errors import UnknownName
+from leastneeds.findings import Findings
+from leastneeds.program_reading import program_from
 from leastneeds.rules import (
     check_clashes,
     check_cover,
@@ -22,10 +24,17 @@ class Program:
         self.book = checked_book(declarations, picks)
         self.declarations = declarations
         self.picks = tuple(picks)
+        self.findings = Findings(self.book, self.picks)
 
     @classmethod
     def of(cls, declarations, *, picks=()):
         """The program of a sequence of declarations."""
+        return cls(*declarations, picks=picks)
+
+    @classmethod
+    def read(cls, text):
+        """The program with this text."""
+        declarations, picks = program_from(text)
         return cls(*declarations, picks=picks)
 
     def __eq__(self, other):
