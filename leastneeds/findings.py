@@ -52,10 +52,18 @@ class Findings:
         rows = [(definition.name, definition.term) for definition in definitions]
         return Study(self.book, self.schemes, rows, None)
 
+    def study_at(self, where):
+        """A look at the terms of the ring of a where, and the index of its own term there."""
+        if where[0] != "definition":
+            return Study(self.book, self.schemes, [("", term_in(self.book, where))], due_in(self.book, where)), 0
+        ring = [names for names in self.rings if where[1] in names][0]
+        return self.study_of(ring), sorted(ring).index(where[1])
+
     def fault_in(self, where):
-        """The fault of a default or of the member of a case, or None."""
-        term = term_in(self.book, where)
-        return self.fault_with(term, due_in(self.book, where))
+        """The fault at a where, or None."""
+        if where[0] == "definition":
+            return self.faulty.get(where[1])
+        return self.fault_with(term_in(self.book, where), due_in(self.book, where))
 
     def fault_with(self, term, told):
         """The fault of a term that is used nowhere, or None."""

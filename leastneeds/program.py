@@ -3,7 +3,7 @@
 from leastneeds.book import Book
 from leastneeds.checks import check_arms, check_forms, check_names, check_repeats, checked_shapes
 from leastneeds.deriving import with_needs, with_no_needs
-from leastneeds.errors import UnknownName
+from leastneeds.errors import Faulty, UnknownName
 from leastneeds.findings import Findings
 from leastneeds.program_reading import program_from
 from leastneeds.rules import (
@@ -15,6 +15,7 @@ from leastneeds.rules import (
     check_steadiness,
     check_support,
 )
+from leastneeds.wheres import is_where
 
 
 class Program:
@@ -25,6 +26,8 @@ class Program:
         self.declarations = declarations
         self.picks = tuple(picks)
         self.findings = Findings(self.book, self.picks)
+        self.faults = self.findings.all_faults(declarations)
+        self.is_right = len(self.faults) == 0
 
     @classmethod
     def of(cls, declarations, *, picks=()):
@@ -69,6 +72,19 @@ class Program:
         """The names of all cases of a role, ascending."""
         named_in(self.book.roles, role)
         return tuple(sorted([case.name for case in self.book.cases_at(role)]))
+
+    def scheme(self, name):
+        """The scheme of a constructor, primitive, member or definition; Faulty for one with a fault."""
+        found = named_in(self.findings.schemes, name)
+        if name in self.findings.faulty:
+            raise Faulty(("definition", name))
+        return found
+
+    def fault(self, where):
+        """The fault at a where, or None."""
+        if not is_where(self.book, where):
+            raise UnknownName(where)
+        return self.findings.fault_in(where)
 
 
 def named_in(table, name):

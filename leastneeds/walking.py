@@ -20,6 +20,8 @@ class Letting:
         self.generic = []
         # The sketches of the terms.
         self.sketches = []
+        # The index that the first of its needs has in the context of its terms, as soon as it is known.
+        self.start = 0
 
 
 class Walk:

@@ -1,0 +1,31 @@
+"""Which schemes are within others."""
+
+from leastneeds.errors import InvalidScheme
+from leastneeds.improvement import improved, is_clear, is_steady
+from leastneeds.kinds import put, var
+from leastneeds.needs import put_needs
+from leastneeds.search import Context
+from leastneeds.uniting import fits
+
+
+def within(program, one, other):
+    """None if a scheme is not within another one; otherwise the kinds for its variables, and papers."""
+    book = program.book
+    for scheme in (one, other):
+        if not is_clear(book, [scheme.kind], scheme.needs):
+            raise InvalidScheme(scheme)
+    by = fits([other.kind], [one.kind])
+    if by is None or not is_steady(book, [one.kind], one.needs):
+        return None
+    # Variables that the kind does not have are found by improving; they are no variables of the other one.
+    apart = {name: var("1" + name) for name in other.variables if name not in by}
+    first = {name: by.get(name, apart.get(name)) for name in other.variables}
+    then = improved(book, put_needs(other.needs, first), one.needs, one.variables)
+    if then is None:
+        return None
+    kinds = {name: put(first[name], then) for name in first}
+    context = Context(program, *one.needs)
+    papers = tuple([context.paper(need) for need in put_needs(other.needs, kinds)])
+    if None in papers:
+        return None
+    return kinds, papers
