@@ -1,9 +1,9 @@
 """Which schemes are within others."""
 
 from leastneeds.errors import InvalidScheme
-from leastneeds.improvement import improved, is_clear, is_steady
+from leastneeds.improvement import covers, improved, is_clear, is_steady
 from leastneeds.kinds import put, var
-from leastneeds.needs import put_needs
+from leastneeds.needs import put_needs, variables_in
 from leastneeds.search import Context
 from leastneeds.uniting import fits
 
@@ -24,8 +24,10 @@ def within(program, one, other):
     if then is None:
         return None
     kinds = {name: put(first[name], then) for name in first}
-    context = Context(program, *one.needs)
-    papers = tuple([context.paper(need) for need in put_needs(other.needs, kinds)])
-    if None in papers:
+    needs = put_needs(other.needs, kinds)
+    # A variable that improving leaves would stand in a need that nothing settles, so that is not met.
+    if not covers(one.variables, variables_in(needs)):
         return None
-    return kinds, papers
+    context = Context(program, *one.needs)
+    papers = tuple([context.paper(need) for need in needs])
+    return None if None in papers else (kinds, papers)
