@@ -290,6 +290,94 @@ class TestProgram(unittest.TestCase):
             self.assertTrue(program.case_named(name) == Case(name, word, [kind], [(member, term)]), name)
 
 
+class TestSeveralErrors(unittest.TestCase):
+    """Each error of [23] ahead of all those behind it, wherever they stand."""
+
+    # For each error, in their order, declarations that have it and no earlier one.
+    ROWS = [
+        ("Repeated", [Data("list", (), [("other", ())])]),
+        ("Unknown", [Definition("unknown", ("name", "nowhere"))]),
+        ("BadArms", [Definition("badarms", arms(("no", "")))]),
+        ("Misshapen", [Data("badshape", (), [("badshape", (con("list"),))])]),
+        ("RoleRing", [role("ring", ("rong", A)), role("rong", ("ring", A))]),
+        ("BadMembers", [Role("lone", ("a",), [("lonem", to(A, A), (), None)]), Case("lonec", "lone", [WHOLE], [])]),
+        ("Grows", [role("big"), case("bigc", "big", [TEXT], ("big", TEXT))]),
+        ("Uncovered", [role("cover", variables=TWO, settles=((0, 1),)), case("coverc", "cover", [WHOLE, A])]),
+        ("Clash", [Case("clash", "same", [TEXT], [("alike", SAME)])]),
+        ("Underivable", [Data("act", (), [("act", (to(WHOLE, WHOLE),))]), Derive("sact", "same", "act")]),
+        ("Unsupported", [role("high", ("words", A)), case("highc", "high", [to(A, B)])]),
+        ("Improper", [Definition("improper", SAME, told=Scheme(to(A, A), ("same", B)))]),
+    ]
+
+    def test_in_their_order(self):
+        for k, (word, own) in enumerate(self.ROWS):
+            for later, (_, others) in enumerate(self.ROWS[k:]):
+                rows = [LIST] + ([] if later == 0 else list(others)) + list(own)
+                with self.assertRaises((ValueError, LookupError)) as caught:
+                    Program(*rows)
+                self.assertEqual(type(caught.exception).__name__, word)
+            rows = [LIST]
+            for _, others in reversed(self.ROWS[k:]):
+                rows += others
+            with self.assertRaises((ValueError, LookupError)) as caught:
+                Program(*rows)
+            self.assertEqual(type(caught.exception).__name__, word)
+            # Ahead of all of them is what is no declaration, then picks of another form.
+            with self.assertRaises(InvalidDeclaration) as caught:
+                Program(*rows, None, picks=None)
+            self.assertEqual(caught.exception.index, len(rows))
+            with self.assertRaises(InvalidPicks):
+                Program(*rows, picks=[A])
+
+    def test_the_first_one(self):
+        for word, own in self.ROWS:
+            if word == "Underivable":
+                continue
+            index = len(own)
+            renamed = self.again(word)
+            with self.assertRaises((ValueError, LookupError)) as caught:
+                Program(LIST, *own, *renamed)
+            self.assertEqual(type(caught.exception).__name__, word)
+            expected = 1 if word == "RoleRing" else index
+            self.assertEqual(caught.exception.index, expected, word)
+
+    def again(self, word):
+        """Further declarations with the same error."""
+        told = {
+            "Repeated": [Data("text", (), [("more", ())])],
+            "Unknown": [Definition("unknowns", ("name", "none"))],
+            "BadArms": [Definition("badarmss", arms(("yes", "")))],
+            "Misshapen": [Data("badshap", (), [("badshap", (con("list"),))])],
+            "RoleRing": [role("rings", ("rongs", A)), role("rongs", ("rings", A))],
+            "BadMembers": [Case("lonecs", "lone", [TEXT], [])],
+            "Grows": [case("bigcs", "big", [WHOLE], ("big", TEXT))],
+            "Uncovered": [case("covercs", "cover", [TEXT, A])],
+            "Clash": [Case("clashs", "same", [WHOLE], [("alike", SAME)])],
+            "Unsupported": [case("highcs", "high", [listed(to(A, B))])],
+            "Improper": [Definition("impropes", SAME, told=Scheme(to(A, A), ("same", B)))],
+        }
+        return told[word]
+
+    def test_underivable_ahead_of_what_later_declarations_have(self):
+        later = Definition("improper", SAME, told=Scheme(to(A, A), ("same", B)))
+        act = Data("act", (), [("act", (to(WHOLE, WHOLE),))])
+        unsupported = [role("high", ("words", A)), case("highc", "high", [to(A, B)])]
+        with self.assertRaises(Underivable) as caught:
+            Program(later, *unsupported, act, Derive("sact", "same", "act"))
+        self.assertEqual((caught.exception.word, caught.exception.need), ("sact", ("same", to(WHOLE, WHOLE))))
+
+    def test_picks(self):
+        with self.assertRaises(Unknown) as caught:
+            Program(LIST, Definition("badarms", arms(("no", ""))), picks=[con("none")])
+        self.assertEqual((caught.exception.index, caught.exception.word), (2, "none"))
+        with self.assertRaises(Misshapen) as caught:
+            Program(LIST, picks=[WHOLE, con("list")])
+        self.assertEqual(caught.exception.index, 1)
+        with self.assertRaises(Misshapen) as caught:
+            Program(LIST, *self.ROWS[4][1], picks=[con("whole", WHOLE)])
+        self.assertEqual(caught.exception.index, 3)
+
+
 class TestDerives(unittest.TestCase):
     NEST = Data("nest", ("a",), [("stop", ()), ("deep", (A, con("nest", pair(A, A))))])
     MARK = Data("mark", ("a",), [("tag", (WHOLE,))])

@@ -16,10 +16,10 @@ class TestReadme(unittest.TestCase):
         count = 0
         for line in code.split("\n"):
             if " # " in line or "  # " in line:
-                asked, told = line.split("#")
+                asked, told = line.rsplit("#", 1)
                 self.assertEqual(eval(asked.strip(), names), eval(told.strip()))
                 count += 1
-        self.assertEqual(count, 5)
+        self.assertEqual(count, 10)
 
 
 if __name__ == "__main__":
