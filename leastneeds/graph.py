@@ -82,10 +82,10 @@ class Graph:
             if is_done:
                 states[node] = "done"
                 found.append(node)
-            elif states.get(node) == "open":
+            elif states.get(node) == "begun":
                 raise NoKinds()
             elif node not in states:
-                states[node] = "open"
+                states[node] = "begun"
                 waiting.append((node, True))
                 form = self.forms[node]
                 if form is not None and form[0] == "apply":

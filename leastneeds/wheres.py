@@ -19,9 +19,7 @@ def is_where(book, value):
 
 
 def term_in(book, where):
-    """The term at a where."""
-    if where[0] == "definition":
-        return book.definitions[where[1]].term
+    """The term of a default or of the member of a case."""
     if where[0] == "role":
         return member_row(book.roles[where[1]], where[2])[3]
     return dict(book.cases[where[1]].members)[where[2]]

@@ -6,7 +6,7 @@ from leastneeds.declarations import Data, Definition
 from leastneeds.errors import Faulty, UnknownName, Wrong
 from leastneeds.faults import fault_of
 from leastneeds.inferring import scheme_of
-from leastneeds.kinds import con, size_of, var
+from leastneeds.kinds import con, size_of, to, var
 from leastneeds.program import Program
 from leastneeds.reader import read_scheme, read_term
 from leastneeds.schemes import Scheme
@@ -131,6 +131,19 @@ class TestDefinitions(FaultCase):
             self.assertEqual(found.fault(("definition", "f")), fault)
             self.assertEqual(found.fault(("definition", "g")), fault and ("stuck", "f"))
 
+    def test_great_with_needs(self):
+        kind = con("whole")
+        for _ in range(149):
+            kind = pair(con("whole"), kind)
+        for many, fault in ((99, None), (100, ("great",))):
+            # The needs that are told count, not those that are asked.
+            needs = [("words", var("a"))] * many
+            told = Scheme.under(to(var("a"), kind), needs)
+            self.assertEqual(told.size, 301 + many)
+            term = read_term("given x . f x")
+            found = based().with_more(Definition("f", term, told=told))
+            self.assertEqual(found.fault(("definition", "f")), fault)
+
     def test_holes_for_faulty_uses(self):
         lines = ["define bad = 1 2", "define worse = alike plus", "define dark = alike nil nil", "define late = two bad 1"]
         faults = {
@@ -149,6 +162,7 @@ class TestDefinitions(FaultCase):
     def test_stuck(self):
         lines = ["define a = two c b", "define b = 1 2", "define c = two 1 b", "define d = given b . two b 1", "define e = a"]
         self.definitions(lines, a=("stuck", "c"), b=("unfit", (0,)), c=("stuck", "b"), e=("stuck", "a"))
+        self.definitions(["define a = given x . plus ( a x ) b", "define b = 1 2"], a=("stuck", "b"), b=("unfit", (0,)))
         # Its own fault does not make a definition stuck.
         self.definitions(["define a = plus a yes"], a=("unfit", (1,)))
 
@@ -181,6 +195,14 @@ class TestRings(FaultCase):
             "define d = given x . b x",
         ]
         self.definitions(lines, a=("stuck", "b"), b=("stuck", "c"), c=("unfit", (0, 1)), d=("stuck", "b"))
+
+    def test_others_that_use_a_bad_ring(self):
+        lines = [
+            "define a = given x . plus ( b x ) yes",
+            "define b = given x . a x",
+            "define c = two ( plus b 1 ) ( size b )",
+        ]
+        self.definitions(lines, a=("unfit", (0, 1)), b=("stuck", "a"), c=("stuck", "b"))
 
     def test_lacking(self):
         lines = ["define b = given x . alike x ( a x )", "define a = given x . b plus"]
@@ -362,7 +384,7 @@ class TestWheres(unittest.TestCase):
             ("role", "zeros"), ("role", "zeros", "zero"), ("role", "zeros", "nothing"), ("role", "turns", "turn"), ("role", "none", "zero"),
             ("role", "same", "alike"), ("role", "zeros", ["blank"]), ("case", "zerow", "blank"), ("case", "zerow", "none"),
             ("case", "none", "zero"), ("case", "zeros", "zero"), ("case", "slist", "atmost"), ("case", "slist"), ("case", "slist", "alike", 0),
-            ("case", {}, "zero"), deep, ("case", deep, deep), {}, found, ("definition", found),
+            ("case", {}, "zero"), ("term", "zeros", "blank"), ("term", "zerot", "blank"), ("", "f"), deep, ("case", deep, deep), {}, found, ("definition", found),
         ):
             with self.assertRaises(UnknownName) as caught:
                 found.fault(value)

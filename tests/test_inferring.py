@@ -105,6 +105,12 @@ class TestTerms(TermCase):
         self.wrong("given x . match x | two a b = plus a ( join b a ) end", ("unfit", (0, 1, 1, 0, 0)))
         self.wrong("given x . match x | box b = plus b 1 | none = x end", ("unfit", (0, 2)))
 
+    def test_constructors_with_the_names_of_variables(self):
+        base = program(*BASE, "data a = mka", "data odd 'a 'b = odd 'a a 'b ( list b )", "data b = mkb")
+        self.tells("odd 1", "a -> 'b -> list b -> odd whole 'b", base)
+        self.tells("match odd 1 mka _ _ | odd p q r s = two q s end", "pair a ( list b )", base)
+        self.tells("cons mka nil", "list a", base)
+
     def test_names_hide_what_is_declared(self):
         self.tells("given plus . plus 1", "( whole -> 'a ) -> 'a")
         self.tells("let nil = 1 in nil", "whole")
@@ -161,6 +167,7 @@ class TestLets(TermCase):
         self.wrong("given x . let y = given z . cons z ( cons x nil ) in two ( y 1 ) ( y \"a\" )", ("unfit", (0, 1, 1, 1)))
         self.tells("given x . let y = given z . two x z in two ( y 1 ) ( y \"a\" )", "'a -> pair ( pair 'a whole ) ( pair 'a text )")
         self.wrong("given x . match x | box b = let c = b in two ( c 1 ) ( c \"a\" ) | none = _ end", ("unfit", (0, 1, 1, 1, 1)))
+        self.wrong("match nil | nil = _ | cons h t = let c = h in two ( plus c 1 ) ( size c ) end", ("unfit", (2, 1, 1, 1)))
         # What is around may be known later.
         self.tells("given x . let y = x in two y ( plus x 1 )", "whole -> pair whole whole")
         self.tells("given f . let g = given x . f x in two ( g 1 ) ( f 2 )", "( whole -> 'a ) -> pair 'a 'a")
@@ -218,6 +225,10 @@ class TestLets(TermCase):
         self.tells("let c = turn 1 in two c c", "pair text text")
         self.tells("let c = plus ( turn 1 ) 1 in 7", "whole")
         self.wrong("let c = plus ( turn 1 ) 1 in c", ("unfit", (1,)))
+
+    def test_variables_of_needs_alone(self):
+        term = "let c = given x . alike ( turn x ) ( turn x ) in two ( c 1 ) ( c ( cons 1 nil ) )"
+        self.tells(term, "pair truth truth")
 
     def test_rings_ask_all_needs_of_their_terms(self):
         self.tells(
@@ -392,6 +403,21 @@ class TestPicks(unittest.TestCase):
     def test_only_what_is_not_known(self):
         self.assertEqual(self.told("whole", "given x . alike x x"), read_scheme("'a -> truth if same 'a"))
         self.assertEqual(self.told("whole", "given x . turn x"), read_scheme("'a -> 'b if turns 'a 'b"))
+
+    def test_beside_another_variable_that_no_one_looks_at(self):
+        lines = ["picks whole", *BASE, "case loosew : loose whole 'b", "as slip = given x . slip x"]
+        with self.assertRaises(Wrong) as caught:
+            scheme_of(program(*lines), read_term("slip zero"))
+        self.assertEqual(caught.exception.found, ("unclear", "loose"))
+        self.assertEqual(scheme_of(program(*lines), read_term("size ( slip ( plus 1 zero ) )")), read_scheme("whole"))
+
+    def test_within_a_kind(self):
+        lines = [*BASE, "role odd 'a", "member oddm : 'a -> whole", "case oddl : odd ( list whole )", "as oddm = given x . 1"]
+        found = program("picks text , truth , whole", *lines)
+        self.assertEqual(scheme_of(found, read_term("oddm nil")), read_scheme("whole"))
+        with self.assertRaises(Wrong) as caught:
+            scheme_of(program("picks text", *lines), read_term("oddm nil"))
+        self.assertEqual(caught.exception.found, ("unclear", "odd"))
 
     def test_only_whole_ones(self):
         # The variable of fmap has the shape 1.

@@ -166,6 +166,11 @@ class TestLets(unittest.TestCase):
         _, rows, _ = self.value("let e = given x . given y . match alike x x | yes = alike y x | no = alike y y end in e 1")
         self.assertEqual([need[0] for need in rows[0][2]], ["same"])
 
+        # Also if they are made by different uses.
+        rest = "match alike ( cons x nil ) nil | yes = alike nil ( cons x nil ) | no = alike ( cons x nil ) ( cons y nil ) end"
+        _, rows, _ = self.value("let e = given x . given y . " + rest + " in e 1")
+        self.assertEqual(rows[0][2], (("same", listed(var(rows[0][1][0]))),))
+
     def test_needs_that_are_met_are_asked_too(self):
         _, rows, body = self.value("let e = alike 1 2 in e")
         self.assertEqual(rows[0][1:3], ((), (("same", WHOLE),)))
@@ -212,6 +217,13 @@ class TestLets(unittest.TestCase):
         self.assertEqual(len(rows[0][2]), 1)
         inner = rows[0][4][3][1]
         self.assertIn("('name', 'f', (('var', %r),), (('given', 1, ()),))" % rows[0][1][0], str(inner[0][4]))
+
+    def test_own_needs_behind_those_that_have_others_above(self):
+        term = "given x . let f = given y . match atmost y y | yes = f y | no = atmost x x end in f x"
+        value = self.value(term)
+        rows = value[3][1]
+        self.assertEqual(len(rows[0][2]), 2)
+        self.assertIn("(('given', 1, ()), ('given', 2, ()))", str(rows[0][4]))
 
     def test_lets_within_lets(self):
         self.value("let f = given x . let g = given y . two x y in two ( g 1 ) ( g yes ) in two ( f 1 ) ( f yes )")
@@ -288,6 +300,7 @@ class TestDefinitions(unittest.TestCase):
             "define deep : 'z -> whole if same 'z = given x . match alike x x | yes = deep ( two x x ) | no = deep 1 end",
             "define less : list 'z -> truth if order 'z = given x . alike x x",
             "define other : 'x -> whole if order 'x = given y . deep ( cons y nil )",
+            "define know : 'a -> whole if turns 'a 'b , words 'b = given x . let n = nil in match n | nil = size ( shown ( turn x ) ) | cons h t = 1 end",
             "define more : 'z -> list whole if words 'z , same 'z = given x . let e = given y . two ( alike x x ) y in match e 1 | two p q = cons q nil end",
         )
         value = marked(program, ("definition", "deep"))
@@ -368,6 +381,18 @@ class TestDue(unittest.TestCase):
         program = based(*lines)
         b, d, e = var("b"), var("d"), var("e")
         self.assertEqual(due(program, ("case", "widep", "each"))[0], to(pair(pair(A, C), b), d, e, d))
+
+    def test_variables_of_needs_alone(self):
+        lines = ["role goes 'a", "member go : 'a -> whole if turns 'a 'b , words 'b", "case gop : goes ( pair 'b 'c ) if turns 'c 'b", "as go = given x . 1"]
+        d = var("d")
+        needs = (("turns", C, B), ("turns", pair(B, C), A), ("words", A))
+        program = based(*lines[:2])
+        with self.assertRaises(UnknownName):
+            due(program, ("case", "gop", "go"))
+        lines[2] = lines[2].replace("pair", "odd")
+        program = based("data odd 'a 'b = odd 'a 'b", *lines)
+        self.assertEqual(due(program, ("case", "gop", "go")), (to(con("odd", B, C), WHOLE), (needs[0], ("turns", con("odd", B, C), A), needs[2])))
+        self.assertNotIn(d, needs)
 
     def test_built_in_and_derived(self):
         program = based()

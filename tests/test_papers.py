@@ -48,9 +48,11 @@ class TestIsPaper(unittest.TestCase):
         for paper in (
             ("given", 3, ()), ("given", -1, ()), ("given", 1, ()), ("given", 0, (("above", 2),)), ("given", 0, (("above", -1),)),
             ("given", 0, (("part", 0),)), ("given", 0, (("under", 0),)), ("given", 1, (("part", 1),)), ("given", 1, (("above", 0),)),
+            ("given", 1, (("under", 0),)), ("given", 1, (("part", 0, 0),)), ("given", 0, (["above", 0],)), ("given", 0, (("above", False),)),
+            ("given", 1, (["part", 0],)), ("given", 0, [("above", 0)]), ("given", False, (("above", 0),)), ("given", True, (("part", 0),)),
             ("given", 0, (("above", 0), ("above", 0), ("above", 0))),
         ):
-            for need in (("top", A), ("low", A), ("mid", A), ("side", A)):
+            for need in (("top", A), ("low", A), ("low", B), ("mid", A), ("side", A)):
                 self.assertFalse(is_paper(context, need, paper), paper)
 
     def test_case(self):

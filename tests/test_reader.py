@@ -156,6 +156,29 @@ class TestKinds(ReadCase):
             else:
                 self.wrong(read_kind, deep, 0, 21)
                 self.wrong(read_kind, left, 0, 10)
+        # Everywhere from none on.
+        for many in (10, 11):
+            deep = "list ( " * many + "list 'a" + " )" * many
+            part = "( " + "list ( " * (many - 1) + "list 'a" + " )" * many
+            for read, text, piece in (
+                (read_scheme, f"{deep} if same 'a", 21),
+                (read_scheme, f"'a if same 'a , turns 'a {part}", 7 + 20),
+                (read_scheme, f"'a if turns {part} 'a", 3 + 20),
+                (Program.read, f"picks {deep} , whole )", 1 + 21),
+                (Program.read, f"picks whole , {deep} )", 3 + 21),
+                (Program.read, f"data it 'a = it 'a {part} | )", 6 + 20),
+                (Program.read, f"role r 'a above same {part} )", 5 + 20),
+                (Program.read, f"case c : same {part} if )", 4 + 20),
+                (Program.read, f"case c : same 'a if same {part} )", 7 + 20),
+                (Program.read, f"define f : {deep} = )", 3 + 21),
+                (Program.read, f"define f : 'a -> {deep} = )", 5 + 21),
+            ):
+                if many == 11:
+                    self.wrong(read, text, 0, piece)
+                elif text.endswith(")") and read == Program.read:
+                    self.wrong(read, text, 0, text.count(" "))
+                else:
+                    read(text)
         # Only those that are open at once count.
         wide = "pair ( list 'a ) ( pair ( list 'a ) ( list 'a ) )"
         self.assertEqual(text_of(read_kind(wide)), wide)
@@ -377,6 +400,8 @@ class TestTerms(ReadCase):
             ('" "', " "),
             ('"( = | end"', "( = | end"),
             ('"~!"', "~!"),
+            ('"a\\" b"', 'a" b'),
+            ('"\\\\ \\" "', '\\ " '),
             ('"' + "a" * 200 + '"', "a" * 200),
             ('"' + '\\"' * 200 + '"', '"' * 200),
         ):
@@ -418,6 +443,22 @@ class TestTerms(ReadCase):
                     self.assertTrue(is_term(read_term(text)))
                 else:
                     self.wrong(read_term, text, 0, piece)
+        # Each of these has a place in which one more is open.
+        for text, piece in (
+            ("given x . {}", 3),
+            ("let x = {} in x", 3),
+            ("let x = x and y = {} in x", 7),
+            ("let x = x in {}", 5),
+            ("match {} | a = x end", 1),
+            ("match x | a = {} end", 5),
+            ("match x | a = x | b = {} end", 9),
+            ("f ( {} )", 2),
+            ("( given x . {} ) y", 4),
+            ("f x ( {} ) y", 3),
+        ):
+            fits = 18 if text.startswith("(") else 19
+            self.assertTrue(is_term(read_term(text.format("given y . " * fits + "x"))))
+            self.wrong(read_term, text.format("given y . " * (fits + 1) + "x"), 0, piece + 3 * fits)
         # A function is open up to the end of its body, a match up to its end.
         self.assertTrue(is_term(read_term("f ( given x . " * 10 + "x" + " )" * 10)))
         self.wrong(read_term, "f ( given x . " * 10 + "f ( f x )" + " )" * 10, 0, 51)
@@ -544,6 +585,11 @@ define g : pair 'z whole = g"""
             ("picks whole ,", 3),
             ("picks , whole", 1),
             ("picks whole text whole ->", 5),
+            ("picks whole = 1", 2),
+            ("picks whole if same 'a", 2),
+            ('"data" list = nil', 0),
+            ('"define" f = 1', 0),
+            ("'f = 1", 0),
             ("data", 1),
             ("data list", 2),
             ("data list 'a", 3),
@@ -620,6 +666,18 @@ define g : pair 'z whole = g"""
             self.wrong(Program.read, "role r 'a\nmember n : 'a\n" + text, 2, piece)
         for text, piece in (("as", 1), ("as m", 2), ("as m : 1", 2), ("as m =", 3), ("as m = 1 2 )", 5), ("as 1", 1)):
             self.wrong(Program.read, "case c : same whole\nas m = 1\n" + text, 2, piece)
+
+    def test_twenty_open_at_once(self):
+        for head, piece in (
+            ("define f = ", 3),
+            ("define f : 'a = ", 5),
+            ("role r 'a\nmember m : 'a = ", 5),
+            ("case c : same whole\nas m = ", 3),
+        ):
+            line = head.count("\n")
+            self.wrong(Program.read, head + "given x . " * 20 + ")", line, piece + 60)
+            self.wrong(Program.read, head + "given x . " * 21 + "x", line, piece + 60)
+            self.wrong(Program.read, head + "given x . " * 19 + "f ( x )", line, piece + 57 + 3)
 
     def test_what_declarations_raise(self):
         def raises(error, text, **fields):
