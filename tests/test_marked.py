@@ -171,6 +171,12 @@ class TestLets(unittest.TestCase):
         _, rows, _ = self.value("let e = given x . given y . " + rest + " in e 1")
         self.assertEqual(rows[0][2], (("same", listed(var(rows[0][1][0]))),))
 
+        # Kinds that end alike are not the same.
+        rest = "match alike ( cons x nil ) nil | yes = alike ( two 1 x ) ( two 1 x ) | no = alike ( two x x ) ( two x x ) end"
+        _, rows, _ = self.value("let e = given x . " + rest + " in e 1")
+        item = var(rows[0][1][0])
+        self.assertEqual(rows[0][2], tuple([("same", kind) for kind in (listed(item), pair(WHOLE, item), pair(item, item))]))
+
     def test_needs_that_are_met_are_asked_too(self):
         _, rows, body = self.value("let e = alike 1 2 in e")
         self.assertEqual(rows[0][1:3], ((), (("same", WHOLE),)))
