@@ -2,9 +2,11 @@
 
 from leastneeds.declarations import Case, Data, Role
 from leastneeds.kinds import con, to, var
+from leastneeds.terms import two_given
 
 # The kinds that are no data, with the number of parts that they lack.
 BASIC_KINDS = {"whole": 0, "text": 0, "to": 2}
+
 
 def basic_declarations():
     """The built-in data, roles and cases, a list."""
@@ -42,16 +44,11 @@ def basic_terms():
     return {
         "swhole": ("name", "equal"),
         "stext": ("name", "eqtext"),
-        "struth": two_given(("match", one, (("no", (), opposite), ("yes", (), other)))),
+        "struth": two_given("x", "y", ("match", one, (("no", (), opposite), ("yes", (), other)))),
         "owhole": ("name", "upto"),
         "otext": ("name", "uptotext"),
-        "otruth": two_given(("match", one, (("no", (), yes), ("yes", (), other)))),
+        "otruth": two_given("x", "y", ("match", one, (("no", (), yes), ("yes", (), other)))),
         "wwhole": ("name", "spell"),
         "wtext": ("given", "x", one),
         "wtruth": ("given", "x", ("match", one, (("no", (), ("text", "no")), ("yes", (), ("text", "yes"))))),
     }
-
-
-def two_given(body):
-    """A function with the parameters x and y."""
-    return ("given", "x", ("given", "y", body))

@@ -1,20 +1,18 @@
 """The members of the cases that the package writes."""
 
+from leastneeds.terms import two_given
+
 NO = ("name", "no")
 
 
 def member_of(role, data):
     """The name and the term of the member of a derived case of a role for data."""
     if role == "same":
-        return ("alike", two_given(matched_twice(data, alike_unlike, alike_fields)))
+        return ("alike", two_given("one", "other", matched_twice(data, alike_unlike, alike_fields)))
     if role == "order":
-        return ("atmost", two_given(matched_twice(data, atmost_unlike, atmost_fields)))
+        return ("atmost", two_given("one", "other", matched_twice(data, atmost_unlike, atmost_fields)))
     arms = [(name, field_names("a", fields), shown_text(name, fields)) for name, fields in data.constructors]
     return ("shown", ("given", "one", ("match", ("name", "one"), tuple(arms))))
-
-
-def two_given(body):
-    return ("given", "one", ("given", "other", body))
 
 
 def matched_twice(data, unlike, alike):

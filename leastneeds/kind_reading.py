@@ -6,7 +6,7 @@ from leastneeds.kinds import applied, is_arrow, to, var
 DEEPEST = 10
 
 
-def kind_from(line, depth):
+def kind_from(line, depth=0):
     """The kind that a line goes on with; `depth` tells how many parentheses are open."""
     sides = [side_from(line, depth)]
     while line.is_mark("->"):
@@ -43,7 +43,7 @@ def arrow_from(line, depth):
     return kind
 
 
-def part_from(line, depth):
+def part_from(line, depth=0):
     """A kind as it is written behind what it is a part of."""
     if line.is_mark("("):
         kind = kind_within(line, depth)
@@ -82,9 +82,9 @@ def leaf_from(line):
 def need_from(line):
     """A need: a role with one or two kinds."""
     role = line.take_name()
-    kinds = [part_from(line, 0)]
+    kinds = [part_from(line)]
     if is_part_next(line):
-        kinds.append(part_from(line, 0))
+        kinds.append(part_from(line))
     return (role,) + tuple(kinds)
 
 
@@ -99,7 +99,7 @@ def needs_from(line):
 
 def scheme_from(line):
     """The kind and the needs of a scheme."""
-    kind = kind_from(line, 0)
+    kind = kind_from(line)
     if not line.is_next_word("if"):
         return kind, ()
     line.take()

@@ -25,10 +25,10 @@ def program_from(text):
 
 def picks_from(line):
     line.take()
-    found = [kind_from(line, 0)]
+    found = [kind_from(line)]
     while line.is_mark(","):
         line.take()
-        found.append(kind_from(line, 0))
+        found.append(kind_from(line))
     line.take_end()
     return tuple(found)
 
@@ -78,7 +78,7 @@ def constructor_from(line):
     name = line.take_name()
     fields = []
     while is_part_next(line):
-        fields.append(part_from(line, 0))
+        fields.append(part_from(line))
     return (name, tuple(fields))
 
 
@@ -122,7 +122,7 @@ def member_from(line):
     if not line.is_mark("="):
         return name, kind, needs, None
     line.take()
-    return name, kind, needs, term_from(line, 0)
+    return name, kind, needs, term_from(line)
 
 
 def case_from(line):
@@ -139,7 +139,7 @@ def case_member_from(line):
     line.take()
     name = line.take_name()
     line.take_mark("=")
-    return name, term_from(line, 0)
+    return name, term_from(line)
 
 
 def definition_from(line):
@@ -149,7 +149,7 @@ def definition_from(line):
         line.take()
         told = scheme_from(line)
     line.take_mark("=")
-    return name, term_from(line, 0), told
+    return name, term_from(line), told
 
 
 def derive_from(line):

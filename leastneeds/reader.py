@@ -9,37 +9,27 @@ from leastneeds.term_reading import term_from
 
 def read_kind(text):
     """The kind with this text."""
-    line = only_line(text)
-    kind = kind_from(line, 0)
-    check_end(line, text)
-    return kind
+    return read_alone(text, kind_from)
 
 
 def read_scheme(text):
     """The scheme with this text."""
-    line = only_line(text)
-    kind, needs = scheme_from(line)
-    check_end(line, text)
+    kind, needs = read_alone(text, scheme_from)
     return Scheme.under(kind, needs)
 
 
 def read_term(text):
     """The term with this text."""
-    line = only_line(text)
-    term = term_from(line, 0)
-    check_end(line, text)
-    return term
+    return read_alone(text, term_from)
 
 
-def only_line(text):
-    """The first line of a text; InvalidText for any value that is no string."""
+def read_alone(text, reading):
+    """What a function reads from a text of one line; InvalidText for any value that is none."""
     if not isinstance(text, str):
         raise InvalidText(0, 0)
-    return Line(text.split("\n")[0], 0)
-
-
-def check_end(line, text):
-    """Raise InvalidText if the line goes on, or another one is behind it."""
+    line = Line(text.split("\n")[0], 0)
+    found = reading(line)
     line.take_end()
     if "\n" in text:
         raise InvalidText(1, 0)
+    return found

@@ -4,7 +4,7 @@
 DEEPEST = 20
 
 
-def term_from(line, depth):
+def term_from(line, depth=0):
     """The term that a line goes on with; `depth` tells how much is open."""
     if line.is_next_word("given"):
         return given_from(line, depth)

@@ -8,6 +8,11 @@ BOUND = 10**30
 LONGEST_TEXT = 200
 
 
+def two_given(one, other, body):
+    """A function with these two parameters."""
+    return ("given", one, ("given", other, body))
+
+
 def is_term(value):
     """Whether any value is a term."""
     # The value may be nested deeper than a term, so nothing calls itself here.
