@@ -27,7 +27,8 @@ class Marker:
     def named_kinds(self, nodes):
         """The kinds of nodes, a tuple; free nodes that have no name yet get one."""
         new = [node for node in self.study.graph.free_nodes(nodes) if node not in self.by]
-        for node, name in zip(new, names_beside(len(new), self.used_names)):
+        names = names_beside(len(new), self.used_names)
+        for node, name in zip(new, names):
             self.by[node] = var(name)
             self.used_names.append(name)
         return tuple(self.study.graph.kinds_of(nodes, self.by))
