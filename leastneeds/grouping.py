@@ -1,7 +1,5 @@
 """Rings: names that use one another, in the order in which they may be looked at."""
 
-from heapq import heappop, heappush
-
 from leastneeds.terms import free_names
 
 
@@ -23,12 +21,13 @@ def rings_of(names, uses):
     found = []
     while ready:
         # Rings are numbered by their first names, so the least number is due.
-        k = heappop(ready)
+        k = min(ready)
+        ready.remove(k)
         found.append(rings[k])
         for other in behind[k]:
             left[other] -= 1
             if left[other] == 0:
-                heappush(ready, other)
+                ready.append(other)
     return found
 
 

@@ -53,7 +53,7 @@ def is_leaf(value):
 def leaves_of(*kinds):
     """The variables and constructors of kinds, from left to right, a list."""
     found = []
-    waiting = list(reversed(kinds))
+    waiting = [kind for kind in reversed(kinds)]
     while waiting:
         part = waiting.pop()
         if part[0] == "apply":
@@ -71,11 +71,7 @@ def size_of(*kinds):
 
 def variables_of(*kinds):
     """The names of the variables of the kinds, each once, in the order in which they stand there."""
-    found = {}
-    for leaf in leaves_of(*kinds):
-        if leaf[0] == "var":
-            found[leaf[1]] = True
-    return tuple(found)
+    return tuple({leaf[1]: True for leaf in leaves_of(*kinds) if leaf[0] == "var"})
 
 
 def put(kind, by):
@@ -92,9 +88,9 @@ def spine_of(kind):
     parts = []
     head = kind
     while head[0] == "apply":
-        parts.append(head[2])
+        parts = [head[2]] + parts
         head = head[1]
-    return head, list(reversed(parts))
+    return head, parts
 
 
 def is_arrow(kind):
@@ -110,15 +106,9 @@ def text_of(kind):
         first = arrow_text(parts[0], parts[1])
         if len(parts) == 2:
             return first
-        pieces = ["( " + first + " )"]
-        parts = parts[2:]
-    elif head[0] == "var":
-        pieces = ["'" + head[1]]
-    else:
-        pieces = [head[1]]
-    for part in parts:
-        pieces.append(part_text(part))
-    return " ".join(pieces)
+        return " ".join(["( " + first + " )"] + [part_text(part) for part in parts[2:]])
+    sign = "'" if head[0] == "var" else ""
+    return " ".join([sign + head[1]] + [part_text(part) for part in parts])
 
 
 def arrow_text(left, right):

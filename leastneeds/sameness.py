@@ -1,29 +1,59 @@
-"""Whether two schemes are the same but for the names of their variables."""
+"""Whether two schemes are the same but for the names of their variables.
 
-from leastneeds.kinds import var, variables_of
-from leastneeds.needs import different, need_text, put_need, variables_in
-from leastneeds.uniting import fits
+`==` of schemes comes here, so nothing is changed on the way: new lists and dicts are made instead.
+"""
+
+from leastneeds.kinds import leaves_of, put, var, variables_of
+from leastneeds.needs import need_text, put_need, variables_in
+
+# What stands for every variable where names do not count.
+ANY = ("var", "*")
 
 
 def same_scheme(kind, needs, other_kind, other_needs):
     """Whether the kinds and the sets of needs are the same, but for names."""
-    own = different(needs)
-    others = different(other_needs)
-    colours = coloured(start_colours(kind, own), own, start_colours(other_kind, others), others)
-    if sorted(colours[0].values()) != sorted(colours[1].values()):
+    names = renamed(({}, {}), [kind], [other_kind])
+    if names is None:
         return False
-    names = renamed(({}, {}), colours, [kind], [other_kind])
-    return names is not None and same_needs(own, others, names, colours)
+    own = told_once(needs)
+    others = told_once(other_needs)
+    if len(own) != len(others):
+        return False
+    if all([name in names[0] for name in variables_in(own)]):
+        return same_texts(own, others, names[0])
+    return same_unknown(own, others, names)
 
 
-def start_colours(kind, needs):
-    """A dict from all variables to their colours: the variables of the kind are told apart, all others are not."""
-    found = {}
-    for name in variables_in(needs):
-        found[name] = "+"
-    for k, name in enumerate(variables_of(kind)):
-        found[name] = "-" + str(k)
-    return found
+def told_once(needs):
+    """The needs, each once, a list."""
+    return list({need_text(need): need for need in needs}.values())
+
+
+def same_texts(needs, others, names):
+    """Whether needs become the others by names for all of their variables."""
+    by = {name: var(names[name]) for name in names}
+    texts = sorted([need_text(put_need(need, by)) for need in needs])
+    return texts == sorted([need_text(need) for need in others])
+
+
+def same_unknown(needs, others, names):
+    """As `same_texts`, where some variables have no name yet."""
+    one = start_colours(names[0], list(names[0]), needs)
+    other = start_colours(names[1], list(names[0].values()), others)
+    colours = coloured(one, needs, other, others)
+    if sorted(list(colours[0].values())) != sorted(list(colours[1].values())):
+        return False
+    return same_needs(needs, others, names, colours)
+
+
+def start_colours(known, row, needs):
+    """A dict from all variables to their colours: those that are known are told apart, all others are not.
+
+    `row` has those that are known, in the order in which they are told apart.
+    """
+    found = {name: "-" + str(k) for k, name in enumerate(row)}
+    others = {name: "+" for name in variables_in(needs) if name not in known}
+    return {**found, **others}
 
 
 def coloured(one, needs, other, others):
@@ -53,27 +83,29 @@ def looks_at(name, colours, needs):
     return sorted([need_text(put_need(need, by)) for need in needs if name in variables_in([need])])
 
 
-def renamed(names, colours, kinds, others):
+def renamed(names, kinds, others):
     """The names with those by which `kinds` become `others`; None if there are none.
 
     Names are two dicts, from variables to variables: there and back.
     """
-    by = fits(kinds, others)
-    if by is None:
+    if [bare(kind) for kind in kinds] != [bare(kind) for kind in others]:
         return None
-    there = dict(names[0])
-    back = dict(names[1])
-    for name in by:
-        if by[name][0] != "var":
-            return None
-        other = by[name][1]
-        if there.get(name, other) != other or back.get(other, name) != name:
-            return None
-        if colours[0][name] != colours[1][other]:
-            return None
-        there[name] = other
-        back[other] = name
+    rows = list(zip(variable_leaves(kinds), variable_leaves(others)))
+    there = {**names[0], **{name: names[0].get(name, other) for name, other in rows}}
+    back = {**names[1], **{other: names[1].get(other, name) for name, other in rows}}
+    if not all([there[name] == other and back[other] == name for name, other in rows]):
+        return None
     return there, back
+
+
+def bare(kind):
+    """The kind with one variable in the place of all of its own."""
+    return put(kind, {name: ANY for name in variables_of(kind)})
+
+
+def variable_leaves(kinds):
+    """The names of the variables of kinds, each as often as it stands there, a list."""
+    return [leaf[1] for leaf in leaves_of(*kinds) if leaf[0] == "var"]
 
 
 def same_needs(needs, others, names, colours):
@@ -106,11 +138,17 @@ def same_cluster(needs, others, names, colours):
     need = needs[at]
     rest = needs[:at] + needs[at + 1 :]
     for k, other in enumerate(others):
-        if need[0] == other[0] and len(need) == len(other):
-            more = renamed(names, colours, need[1:], other[1:])
+        if may_become(need, other, colours):
+            more = renamed(names, need[1:], other[1:])
             if more is not None and same_needs(rest, others[:k] + others[k + 1 :], more, colours):
                 return True
     return False
+
+
+def may_become(need, other, colours):
+    """Whether a need has the role of another one, and its variables have the colours of those there."""
+    own = [colours[0][name] for name in variable_leaves(need[1:])]
+    return need[0] == other[0] and own == [colours[1][name] for name in variable_leaves(other[1:])]
 
 
 def index_of_known(needs, names):
@@ -124,13 +162,8 @@ def clusters(needs, names):
     found = []
     for need in needs:
         marks = [name for name in variables_in([need]) if name not in names]
-        joined = [need]
-        apart = []
-        for row, row_marks in found:
-            if any([name in marks for name in row_marks]):
-                joined = row + joined
-            else:
-                apart = apart + [(row, row_marks)]
-        free = [name for name in variables_in(joined) if name not in names]
-        found = apart + [(joined, free)]
-    return [row for row, _ in found]
+        near = [row for row in found if any([name in marks for name in row[1]])]
+        apart = [row for row in found if not any([name in marks for name in row[1]])]
+        joined = [other for row in reversed(near) for other in row[0]] + [need]
+        found = apart + [(joined, [name for name in variables_in(joined) if name not in names])]
+    return [row[0] for row in found]

@@ -35,6 +35,16 @@ def is_need_in(book, value):
     return are_shaped(book, list(zip(value[1:], book.shapes[value[0]])))
 
 
+def is_scheme_in(book, scheme):
+    """Whether all names and shapes of a scheme are those of the program of a book."""
+    rows = [(scheme.kind, 0)]
+    for need in scheme.needs:
+        if not is_need_in(book, need):
+            return False
+        rows.extend(list(zip(need[1:], book.shapes[need[0]])))
+    return are_shaped(book, rows)
+
+
 def are_shaped(book, rows):
     """Whether there are shapes of the variables by which each kind has the shape beside it.
 

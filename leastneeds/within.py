@@ -4,16 +4,18 @@ from leastneeds.errors import InvalidScheme
 from leastneeds.improvement import covers, improved, is_clear, is_steady
 from leastneeds.kinds import put, var
 from leastneeds.needs import put_needs, variables_in
+from leastneeds.schemes import Scheme
 from leastneeds.search import Context
+from leastneeds.shapes import is_scheme_in
 from leastneeds.uniting import fits
 
 
 def within(program, one, other):
     """None if a scheme is not within another one; otherwise the kinds for its variables, and papers."""
     book = program.book
-    for scheme in (one, other):
-        if not is_clear(book, [scheme.kind], scheme.needs):
-            raise InvalidScheme(scheme)
+    for value in (one, other):
+        if not is_clear_scheme(book, value):
+            raise InvalidScheme(value)
     by = fits([other.kind], [one.kind])
     if by is None or not is_steady(book, [one.kind], one.needs):
         return None
@@ -31,3 +33,10 @@ def within(program, one, other):
     context = Context(program, *one.needs)
     papers = tuple([context.paper(need) for need in needs])
     return None if None in papers else (kinds, papers)
+
+
+def is_clear_scheme(book, value):
+    """Whether any value is a clear scheme of the program of a book."""
+    if not isinstance(value, Scheme) or not is_scheme_in(book, value):
+        return False
+    return is_clear(book, [value.kind], value.needs)
