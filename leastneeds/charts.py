@@ -1,8 +1,11 @@
 """What contexts have, and what needs come down to by cases."""
 
 from leastneeds.kinds import size_of
-from leastneeds.needs import need_text, put_needs
+from leastneeds.needs import need_key, put_needs
 from leastneeds.uniting import fits
+
+# What so many needs come to is kept at most.
+MOST_KEPT = 4000
 
 
 def needs_above(book, need):
@@ -13,38 +16,50 @@ def needs_above(book, need):
 
 def case_at(book, need):
     """The name of the case that a need fits and the list of its parts; None if it fits none."""
-    for case in book.cases_at(need[0]):
+    for case in book.cases_near(need):
         by = fits(case.kinds, need[1:])
         if by is not None:
             return case.name, put_needs(case.needs, by)
     return None
 
 
-def steps_from(book, need):
-    """The steps that lead from a need, a list of tuples (step, need), in the order of steps."""
-    found = [(("above", k), other) for k, other in enumerate(needs_above(book, need))]
-    case = case_at(book, need)
-    if case is not None:
-        found.extend([(("part", k), other) for k, other in enumerate(case[1])])
+def steps_from(book, need, parts):
+    """The steps that lead from a need with these parts, tuples (step, need, its key), in the order of steps."""
+    found = [(("above", k), other, need_key(other)) for k, other in enumerate(needs_above(book, need))]
+    found.extend([(("part", k), other, need_key(other)) for k, other in enumerate(parts)])
+    return found
+
+
+def look_at(book, need, key):
+    """The name of the case that the need with this key fits, or None, and the steps that lead from it.
+
+    What is found is kept in the book.
+    """
+    found = book.looks.get(key)
+    if found is None:
+        if len(book.looks) >= MOST_KEPT:
+            book.looks = {}
+        name, parts = case_at(book, need) or (None, [])
+        found = (name, steps_from(book, need, parts))
+        book.looks[key] = found
     return found
 
 
 def chart_of(book, needs):
-    """All that a context of these needs has, a dict from the texts of the needs.
+    """All that a context of these needs has, a dict from the keys of the needs.
 
     It leads to tuples (need, paper) with the first paper "given", in the order of these papers.
     """
     found = {}
-    level = [(need, ("given", k, ())) for k, need in enumerate(needs)]
+    level = [(need, need_key(need), ("given", k, ())) for k, need in enumerate(needs)]
     while level:
         later = []
         # A level is in order, so a need that is met here first has its first paper here.
-        for need, paper in level:
-            word = need_text(need)
-            if word not in found:
-                found[word] = (need, paper)
-                for step, other in steps_from(book, need):
-                    later.append((other, ("given", paper[1], paper[2] + (step,))))
+        for need, key, paper in level:
+            if key not in found:
+                found[key] = (need, paper)
+                for step, other, other_key in look_at(book, need, key)[1]:
+                    later.append((other, other_key, ("given", paper[1], paper[2] + (step,))))
         level = later
     return found
 
@@ -57,20 +72,20 @@ def had_by(book, needs):
 def plan_of(book, need):
     """The need and all that it comes down to by cases, smaller needs ahead of larger ones.
 
-    A list of tuples (need, its text, the name of its case or None, the texts of its parts).
+    A list of tuples (need, its key, the name of its case or None, the keys of its parts).
     """
     rows = []
     seen = set()
-    waiting = [need]
+    waiting = [(need, need_key(need))]
     while waiting:
-        part = waiting.pop()
-        word = need_text(part)
-        if word not in seen:
-            seen.add(word)
-            name, parts = case_at(book, part) or (None, [])
-            rows.append((part, word, name, [need_text(other) for other in parts]))
-            waiting.extend(parts)
-    return sorted(rows, key=need_size)
+        part, key = waiting.pop()
+        if key not in seen:
+            seen.add(key)
+            name, steps = look_at(book, part, key)
+            inner = [(other, other_key) for step, other, other_key in steps if step[0] == "part"]
+            rows.append((part, key, name, [row[1] for row in inner]))
+            waiting.extend(inner)
+    return rows if len(rows) == 1 else sorted(rows, key=need_size)
 
 
 def need_size(row):
@@ -80,7 +95,7 @@ def need_size(row):
 
 
 def met_in(plan, chart):
-    """Which needs of a plan are met in a chart, a dict of True and False from their texts."""
+    """Which needs of a plan are met in a chart, a dict of True and False from their keys."""
     found = {}
     for _, word, name, parts in plan:
         found[word] = word in chart or (name is not None and all([found[part] for part in parts]))
@@ -89,7 +104,7 @@ def met_in(plan, chart):
 
 def is_met(book, chart, need):
     """Whether a need is met in a chart."""
-    return met_in(plan_of(book, need), chart)[need_text(need)]
+    return met_in(plan_of(book, need), chart)[need_key(need)]
 
 
 def are_met(book, needs, others):

@@ -1,11 +1,10 @@
 """What is asked of the declarations of a program one by one, as far as names, arms and shapes go."""
 
-from leastneeds.basics import BASIC_KINDS, basic_declarations
+from leastneeds.basics import TAKEN
 from leastneeds.declarations import Case, Data, Definition, Derive, Role
 from leastneeds.errors import BadArms, InvalidDeclaration, InvalidPicks, Misshapen, Repeated, Unknown
 from leastneeds.forms import are_kinds_over
 from leastneeds.kinds import leaves_of, text_of
-from leastneeds.primitives import Primitives
 from leastneeds.shapes import are_shaped
 from leastneeds.shaping import Shaping
 from leastneeds.terms import parts_of_term, words_of
@@ -24,15 +23,10 @@ def check_forms(declarations, picks):
 
 def check_repeats(declarations):
     """Raise Repeated for the first declaration with a name that is taken."""
-    taken = {("kind", name): True for name in BASIC_KINDS}
-    for name in Primitives.NAMES:
-        taken[("term", name)] = True
-    for declaration in basic_declarations():
-        for key in declared_keys(declaration):
-            taken[key] = True
+    taken = {}
     for index, declaration in enumerate(declarations):
         for key in declared_keys(declaration):
-            if key in taken:
+            if key in taken or key in TAKEN:
                 raise Repeated(index)
             taken[key] = True
 
@@ -160,8 +154,6 @@ def has_all_arms(book, term):
 def checked_shapes(book, declarations, picks):
     """The least shapes of all roles; Misshapen for the first declaration with which there are none."""
     shaping = Shaping(book)
-    for declaration in basic_declarations():
-        shaping.take(-1, declaration)
     for index, declaration in enumerate(declarations):
         if not shaping.take(index, declaration):
             raise Misshapen(index)

@@ -12,7 +12,7 @@ def wanted(program, name):
 
 def derived(program, name):
     """The case that a derive stands for."""
-    return program.book.cases[derive_named(program, name).name]
+    return program.case_named(derive_named(program, name).name)
 
 
 def derive_named(program, name):

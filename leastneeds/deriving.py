@@ -1,11 +1,13 @@
 """The cases that derives stand for, and the needs that they come to have."""
 
-from leastneeds.book import Book
-from leastneeds.declarations import Case, Derive
+from leastneeds.basics import WrittenCase
+from leastneeds.charts import plan_of
+from leastneeds.declarations import Derive
 from leastneeds.derived_terms import member_of
 from leastneeds.errors import Underivable
-from leastneeds.improvement import is_hopeless, least_of
+from leastneeds.improvement import is_hopeless_plan, least_among, reduced
 from leastneeds.kinds import con, var
+from leastneeds.needs import different
 from leastneeds.rules import is_smaller
 
 
@@ -31,44 +33,37 @@ def wanted_needs(book, derive):
     return found
 
 
-def case_of(book, derive, needs):
-    """The case that a derive stands for, if these are its needs."""
-    member = member_of(derive.role, book.data[derive.data])
-    return Case(derive.name, derive.role, (head_of(book, derive),), (member,), needs=needs)
+def write_cases(book, declarations):
+    """Write the cases of derives, as yet without needs."""
+    for row in derives_of(declarations):
+        member = member_of(row.role, book.data[row.data])
+        book.write_case(WrittenCase(row.name, row.role, head_of(book, row), (member,), ()))
 
 
-def with_derived(book, declarations, needs):
-    """The book in which derives have cases with needs, a dict from their names."""
-    cases = [case_of(book, row, needs[row.name]) for row in derives_of(declarations)]
-    found = Book(declarations, cases)
-    found.shapes = dict(book.shapes)
-    return found
-
-
-def with_no_needs(book, declarations):
-    """The book in which derives have cases without needs."""
-    return with_derived(book, declarations, {row.name: () for row in derives_of(declarations)})
-
-
-def with_needs(book, declarations):
-    """The book in which derives have cases with the needs that rounds lead to."""
+def write_needs(book, declarations):
+    """Write the needs to which rounds lead into the cases of derives."""
     derives = derives_of(declarations)
-    needs = {row.name: () for row in derives}
     while True:
-        found = with_derived(book, declarations, needs)
-        for row in derives:
-            check_wanted(found, row)
-        later = {row.name: least_of(found, wanted_needs(found, row)) for row in derives}
-        if later == needs:
-            return found
-        needs = later
+        later = [needs_in_round(book, row) for row in derives]
+        if later == [book.cases[row.name].needs for row in derives]:
+            return
+        for row, needs in zip(derives, later):
+            case = book.cases[row.name]
+            book.write_case(WrittenCase(case.name, case.role, case.kinds[0], case.members, needs))
 
 
-def check_wanted(book, derive):
-    """Raise Underivable for the first wanted need that has no hope, or does not become smaller."""
+def needs_in_round(book, derive):
+    """The needs of a derived case, by those that derived cases have now.
+
+    Underivable for the first wanted need that has no hope, or does not become smaller.
+    """
     head = [head_of(book, derive)]
-    for need in wanted_needs(book, derive):
-        if is_hopeless(book, (), need, ()):
+    plans = []
+    for need in different(wanted_needs(book, derive)):
+        plan = plan_of(book, need)
+        if is_hopeless_plan(book, plan, [], []):
             raise Underivable(derive.name, need)
-        if not all([is_smaller(other, head) for other in least_of(book, [need])]):
+        if not all([is_smaller(other, head) for other in least_among(book, reduced([plan]))]):
             raise Underivable(derive.name, need)
+        plans.append(plan)
+    return least_among(book, reduced(plans))

@@ -3,10 +3,10 @@
 from leastneeds.cutting import beginnings_of, count_of
 from leastneeds.declarations import Case, Derive, Role
 from leastneeds.grouping import definition_rings, used_definitions
-from leastneeds.kinds import con, to, var
-from leastneeds.primitives import Primitives
-from leastneeds.schemes import Scheme
-from leastneeds.study import Study
+from leastneeds.kinds import size_of
+from leastneeds.known import Known
+from leastneeds.needs import kinds_of
+from leastneeds.study import MOST, Study
 from leastneeds.terms import places, words_of
 from leastneeds.wheres import due_in, term_in
 
@@ -22,7 +22,7 @@ class Findings:
         self.used = {name: used_definitions(book, definitions[name].term) for name in definitions}
         self.rings = definition_rings(book, self.used)
         # The schemes of names in terms; None for a definition whose uses count as holes.
-        self.schemes = declared_schemes(book)
+        self.schemes = Known(book)
         # The faults of definitions, at first without those that come from others.
         self.faulty = {}
         for ring in self.rings:
@@ -41,7 +41,7 @@ class Findings:
                 self.faulty[name] = faults[k]
             if told is None:
                 is_hole = k in faults or study.word is not None
-                self.schemes[name] = None if is_hole else study.scheme_at(k)
+                self.schemes.keep(name, None if is_hole else study.scheme_at(k))
 
     def study_of(self, ring):
         """A look at the terms of a ring."""
@@ -78,24 +78,6 @@ class Findings:
             if fault is not None:
                 found.append((where, fault))
         return tuple(found)
-
-
-def declared_schemes(book):
-    """The schemes of constructors, primitives, members and told definitions, a dict."""
-    found = {name: Primitives.told_scheme(name) for name in Primitives.NAMES}
-    for data in book.data.values():
-        parts = [var(name) for name in data.variables]
-        whole = con(data.name, *parts)
-        for constructor, fields in data.constructors:
-            found[constructor] = Scheme(to(*fields, whole))
-    for role in book.roles.values():
-        need = (role.name,) + tuple([var(name) for name in role.variables])
-        for name, kind, needs, _ in role.members:
-            found[name] = Scheme(kind, need, *needs)
-    for definition in book.definitions.values():
-        if definition.told is not None:
-            found[definition.name] = definition.told
-    return found
 
 
 def faults_in(study, picks, schemes):
@@ -171,12 +153,21 @@ def stuck_fault(term, faulty, own):
 
 
 def wheres_of(book, declarations):
-    """The wheres of all defaults, then of all members of cases, of declarations, a list."""
+    """The wheres of all defaults, then of all members of cases, that may have faults, a list."""
     found = []
     for row in declarations:
         if isinstance(row, Role):
             found.extend([("role", row.name, member[0]) for member in row.members if member[3] is not None])
     for row in declarations:
-        if isinstance(row, (Case, Derive)):
+        if isinstance(row, Case) or (isinstance(row, Derive) and is_large(book.cases[row.name])):
             found.extend([("case", row.name, member[0]) for member in book.cases[row.name].members])
     return found
+
+
+def is_large(case):
+    """Whether a member of a derived case may be great.
+
+    It has no other fault: its term asks nothing but wanted needs, which the needs of the case meet.
+    """
+    kinds = kinds_of(case.needs) + list(case.kinds)
+    return size_of(*kinds) > MOST // 4

@@ -2,7 +2,7 @@
 
 from leastneeds.kinds import is_kind, text_of, variables_of
 from leastneeds.names import is_integer, is_name
-from leastneeds.needs import is_need, need_text, variables_in
+from leastneeds.needs import is_need, need_key, variables_in
 from leastneeds.terms import are_different_names, has_hole, is_term
 
 MOST = 100
@@ -67,7 +67,7 @@ def are_needs_above(value, role, variables):
     """Whether it has the form of the needs above a role with these variables."""
     if not are_needs(value):
         return False
-    if len({need_text(need) for need in value}) < len(value):
+    if len({need_key(need) for need in value}) < len(value):
         return False
     return all([need[0] != role and are_different_variables(need[1:], variables) for need in value])
 

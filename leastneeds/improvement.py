@@ -2,7 +2,7 @@
 
 from leastneeds.charts import chart_of, had_by, plan_of
 from leastneeds.kinds import put, text_of, var, variables_of
-from leastneeds.needs import need_rank, need_text, put_needs, variables_in
+from leastneeds.needs import need_rank, need_key, put_needs, variables_in
 from leastneeds.uniting import composed, fits, unite_beside
 
 
@@ -38,21 +38,27 @@ def settled_pairs(book, needs):
 
 def least_of(book, needs):
     """The least context of needs that no improvement changes, a tuple."""
-    rows = reduced(book, needs)
+    return least_among(book, reduced([plan_of(book, need) for need in needs]))
+
+
+def least_among(book, rows):
+    """The least context of different needs that no case fits, a tuple."""
+    if len(rows) < 2:
+        return tuple(rows)
     charts = [chart_of(book, [need]) for need in rows]
     found = []
     for k, need in enumerate(rows):
-        word = need_text(need)
+        word = need_key(need)
         if not any([word in chart for chart in charts[:k] + charts[k + 1 :]]):
             found.append(need)
     return tuple(sorted(found, key=need_rank))
 
 
-def reduced(book, needs):
-    """The needs that no case fits to which needs come down, each once, a list."""
+def reduced(plans):
+    """The needs that no case fits to which the needs of plans come down, each once, a list."""
     found = {}
-    for need in needs:
-        for part, word, name, _ in plan_of(book, need):
+    for plan in plans:
+        for part, word, name, _ in plan:
             if name is None:
                 found[word] = part
     return list(found.values())
@@ -61,16 +67,22 @@ def reduced(book, needs):
 def is_hopeless(book, given, need, fixed):
     """Whether a need is hopeless beside a given context."""
     rigid = list(fixed) + list(variables_in(given))
-    had = had_by(book, given)
+    return is_hopeless_plan(book, plan_of(book, need), had_by(book, given), rigid)
+
+
+def is_hopeless_plan(book, plan, had, rigid):
+    """Whether the need of a plan is hopeless beside all that a given context has."""
     found = {}
-    for part, word, name, parts in plan_of(book, need):
+    word = ""
+    for part, word, name, parts in plan:
         if any([can_be_same(part, other, rigid) for other in had]):
             found[word] = False
         elif name is None:
-            found[word] = not any([can_be_same(part, head, rigid) for head in heads_apart(book, part[0])])
+            found[word] = not can_fit(book, part, rigid)
         else:
             found[word] = any([found[inner] for inner in parts])
-    return found[need_text(need)]
+    # The need itself comes last.
+    return found[word]
 
 
 def can_be_same(need, other, rigid):
@@ -80,9 +92,13 @@ def can_be_same(need, other, rigid):
     return unite_beside(list(zip(need[1:], other[1:])), rigid) is not None
 
 
-def heads_apart(book, role):
-    """The heads of the cases of a role, as needs with variables that no other need has, a list."""
-    return [(role,) + tuple(kinds_apart(case.kinds)) for case in book.cases_at(role)]
+def can_fit(book, need, rigid):
+    """Whether kinds for variables that are not rigid make a need fit a case."""
+    for case in book.cases_at(need[0]):
+        # No other need has variables of these names.
+        if can_be_same(need, (need[0],) + tuple(kinds_apart(case.kinds)), rigid):
+            return True
+    return False
 
 
 def kinds_apart(kinds):

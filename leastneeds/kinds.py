@@ -83,6 +83,15 @@ def put(kind, by):
     return kind
 
 
+def kind_key(kind):
+    """A string that only this kind has."""
+    if kind[0] == "apply":
+        return "@" + kind_key(kind[1]) + kind_key(kind[2])
+    if kind[0] == "var":
+        return "'" + kind[1] + " "
+    return kind[1] + " "
+
+
 def spine_of(kind):
     """What a kind begins with, and the list of the parts behind it."""
     parts = []

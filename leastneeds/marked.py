@@ -9,7 +9,7 @@ def due(program, where):
     """The kind that is due at a where, and the needs that are given there."""
     check_where(program, where)
     if where[0] == "definition":
-        scheme = program.findings.schemes[where[1]]
+        scheme = program.findings.schemes.at(where[1])
         return scheme.kind, scheme.needs
     return due_in(program.book, where)
 

@@ -4,32 +4,32 @@ LETTERS = "abcdefghijklmnopqrstuvwxyz"
 
 LONGEST = 8
 
-BARRED = (
-    "data",
-    "role",
-    "case",
-    "define",
-    "derive",
-    "picks",
-    "above",
-    "settles",
-    "member",
-    "as",
-    "if",
-    "given",
-    "let",
-    "and",
-    "in",
-    "match",
-    "end",
-)
+BARRED = {
+    "data": True,
+    "role": True,
+    "case": True,
+    "define": True,
+    "derive": True,
+    "picks": True,
+    "above": True,
+    "settles": True,
+    "member": True,
+    "as": True,
+    "if": True,
+    "given": True,
+    "let": True,
+    "and": True,
+    "in": True,
+    "match": True,
+    "end": True,
+}
 
 
 def is_word(value):
     """Whether any value is a string of 1 to 8 letters from a to z."""
     if not isinstance(value, str) or not 1 <= len(value) <= LONGEST:
         return False
-    return all([letter in LETTERS for letter in value])
+    return value.isascii() and value.isalpha() and value.islower()
 
 
 def is_name(value):

@@ -1,6 +1,6 @@
 """Needs: a role with one or two kinds."""
 
-from leastneeds.kinds import is_kind, part_text, put, text_of, variables_of
+from leastneeds.kinds import is_kind, kind_key, put, text_of, variables_of
 from leastneeds.names import is_name
 
 
@@ -32,9 +32,11 @@ def variables_in(needs):
     return variables_of(*kinds)
 
 
-def need_text(need):
-    """The text of a need. Different needs have different texts, so it stands for the need in dicts."""
-    return " ".join([need[0]] + [part_text(kind) for kind in need[1:]])
+def need_key(need):
+    """A string that only this need has: it stands for the need in dicts, where tuples must not be deep."""
+    if len(need) == 2:
+        return need[0] + " " + kind_key(need[1])
+    return need[0] + " " + kind_key(need[1]) + kind_key(need[2])
 
 
 def need_rank(need):
@@ -46,5 +48,5 @@ def different(needs):
     """The needs, each once, in the order in which they stand first, a list."""
     found = {}
     for need in needs:
-        found.setdefault(need_text(need), need)
+        found.setdefault(need_key(need), need)
     return list(found.values())

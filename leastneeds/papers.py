@@ -2,7 +2,7 @@
 
 from leastneeds.charts import case_at, needs_above
 from leastneeds.names import is_integer
-from leastneeds.needs import need_text
+from leastneeds.needs import need_key
 from leastneeds.search import check_need
 from leastneeds.shapes import is_need_in
 
@@ -63,8 +63,8 @@ def is_lacking(context, need, value):
     book = context.program.book
     if not all([is_need_in(book, other) for other in value[1]]):
         return False
-    among = {need_text(other): True for other in value[1]}
-    if len(among) < len(value[1]) or need_text(need) not in among:
+    among = {need_key(other): True for other in value[1]}
+    if len(among) < len(value[1]) or need_key(need) not in among:
         return False
     if any([word in context.chart for word in among]):
         return False
@@ -72,6 +72,6 @@ def is_lacking(context, need, value):
 
 
 def is_lacked(book, need, among):
-    """Whether a need fits no case, or some of its parts are among needs that are told by their texts."""
+    """Whether a need fits no case, or some of its parts are among needs that are told by their keys."""
     case = case_at(book, need)
-    return case is None or any([need_text(part) in among for part in case[1]])
+    return case is None or any([need_key(part) in among for part in case[1]])

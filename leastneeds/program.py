@@ -1,8 +1,9 @@
 """Programs: declarations that belong together."""
 
+from leastneeds.basics import WrittenCase, WrittenData, WrittenRole, plain_case, plain_data, plain_role
 from leastneeds.book import Book
 from leastneeds.checks import check_arms, check_forms, check_names, check_repeats, checked_shapes
-from leastneeds.deriving import with_needs, with_no_needs
+from leastneeds.deriving import write_cases, write_needs
 from leastneeds.errors import Faulty, UnknownName
 from leastneeds.findings import Findings
 from leastneeds.program_reading import program_from
@@ -54,15 +55,18 @@ class Program:
 
     def data_named(self, name):
         """The data with this name."""
-        return named_in(self.book.data, name)
+        found = named_in(self.book.data, name)
+        return plain_data(found) if isinstance(found, WrittenData) else found
 
     def role_named(self, name):
         """The role with this name."""
-        return named_in(self.book.roles, name)
+        found = named_in(self.book.roles, name)
+        return plain_role(found) if isinstance(found, WrittenRole) else found
 
     def case_named(self, name):
         """The case with this name; for a derive the case that it stands for."""
-        return named_in(self.book.cases, name)
+        found = named_in(self.book.cases, name)
+        return plain_case(found) if isinstance(found, WrittenCase) else found
 
     def definition_named(self, name):
         """The definition with this name."""
@@ -75,10 +79,11 @@ class Program:
 
     def scheme(self, name):
         """The scheme of a constructor, primitive, member or definition; Faulty for one with a fault."""
-        found = named_in(self.findings.schemes, name)
+        if not isinstance(name, str) or not self.book.is_term_name(name):
+            raise UnknownName(name)
         if name in self.findings.faulty:
             raise Faulty(("definition", name))
-        return found
+        return self.findings.schemes.at(name)
 
     def fault(self, where):
         """The fault at a where, or None."""
@@ -98,17 +103,17 @@ def checked_book(declarations, picks):
     """The book of the declarations of a program; the first error if something is wrong with them."""
     check_forms(declarations, picks)
     check_repeats(declarations)
-    names = Book(declarations, ())
-    check_names(names, declarations, picks)
-    check_arms(names, declarations)
-    plain = with_no_needs(names, declarations)
-    plain.shapes = checked_shapes(plain, declarations, picks)
-    check_rings(plain, declarations)
-    check_members(plain, declarations)
+    book = Book(declarations)
+    check_names(book, declarations, picks)
+    check_arms(book, declarations)
+    write_cases(book, declarations)
+    book.shapes = checked_shapes(book, declarations, picks)
+    check_rings(book, declarations)
+    check_members(book, declarations)
     check_growth(declarations)
-    check_cover(plain, declarations)
-    check_clashes(plain, declarations)
-    book = with_needs(plain, declarations)
+    check_cover(book, declarations)
+    check_clashes(book, declarations)
+    write_needs(book, declarations)
     check_support(book, declarations)
     check_steadiness(book, declarations)
     return book

@@ -119,8 +119,9 @@ def is_proper(book, declaration):
     if isinstance(declaration, Definition) and declaration.told is not None:
         told = declaration.told
         return are_proper(book, [told.kind], told.needs)
-    if isinstance(declaration, Case):
-        return are_proper(book, declaration.kinds, declaration.needs)
+    if isinstance(declaration, (Case, Derive)):
+        case = book.cases[declaration.name]
+        return are_proper(book, case.kinds, case.needs)
     if isinstance(declaration, Role):
         own = (declaration.name,) + tuple([var(name) for name in declaration.variables])
         return all([is_steady(book, [kind], (own,) + needs) for _, kind, needs, _ in declaration.members])

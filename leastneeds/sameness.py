@@ -4,7 +4,7 @@
 """
 
 from leastneeds.kinds import leaves_of, put, var, variables_of
-from leastneeds.needs import need_text, put_need, variables_in
+from leastneeds.needs import need_key, put_need, variables_in
 
 # What stands for every variable where names do not count.
 ANY = ("var", "*")
@@ -20,24 +20,24 @@ def same_scheme(kind, needs, other_kind, other_needs):
     if len(own) != len(others):
         return False
     if all([name in names[0] for name in variables_in(own)]):
-        return same_texts(own, others, names[0])
+        return same_by_names(own, others, names[0])
     return same_unknown(own, others, names)
 
 
 def told_once(needs):
     """The needs, each once, a list."""
-    return list({need_text(need): need for need in needs}.values())
+    return list({need_key(need): need for need in needs}.values())
 
 
-def same_texts(needs, others, names):
+def same_by_names(needs, others, names):
     """Whether needs become the others by names for all of their variables."""
     by = {name: var(names[name]) for name in names}
-    texts = sorted([need_text(put_need(need, by)) for need in needs])
-    return texts == sorted([need_text(need) for need in others])
+    keys = sorted([need_key(put_need(need, by)) for need in needs])
+    return keys == sorted([need_key(need) for need in others])
 
 
 def same_unknown(needs, others, names):
-    """As `same_texts`, where some variables have no name yet."""
+    """As `same_by_names`, where some variables have no name yet."""
     one = start_colours(names[0], list(names[0]), needs)
     other = start_colours(names[1], list(names[0].values()), others)
     colours = coloured(one, needs, other, others)
@@ -80,7 +80,7 @@ def looks_of(colours, needs):
 def looks_at(name, colours, needs):
     """The texts of the needs in which a variable stands, with colours for variables, ascending."""
     by = {other: var("*" if other == name else colours[other]) for other in colours}
-    return sorted([need_text(put_need(need, by)) for need in needs if name in variables_in([need])])
+    return sorted([need_key(put_need(need, by)) for need in needs if name in variables_in([need])])
 
 
 def renamed(names, kinds, others):

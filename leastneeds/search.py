@@ -2,7 +2,7 @@
 
 from leastneeds.charts import chart_of, first_paper, is_met, lacking_needs, plan_of
 from leastneeds.errors import InvalidNeed
-from leastneeds.needs import need_text
+from leastneeds.needs import need_key
 from leastneeds.shapes import is_need_in
 from leastneeds.tally import Tally
 
@@ -60,7 +60,7 @@ class Context:
         check_need(self.program, need)
         book = self.program.book
         tally = Tally(book, self.needs, self.chart, plan_of(book, need))
-        word = need_text(need)
+        word = need_key(need)
         for size in sorted(tally.numbers[word]):
             for rank in range(tally.numbers[word][size]):
                 yield tally.paper(word, size, rank)

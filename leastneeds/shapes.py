@@ -53,14 +53,15 @@ def are_shaped(book, rows):
     found = {}
     waiting = list(rows)
     while waiting:
-        kind, shape = waiting.pop()
-        head, parts = spine_of(kind)
-        lacks = shape + len(parts)
+        head, lacks = waiting.pop()
+        while head[0] == "apply":
+            waiting.append((head[2], 0))
+            lacks += 1
+            head = head[1]
         if head[0] == "con":
             known = book.lacks.get(head[1])
         else:
             known = found.setdefault(head[1], lacks)
         if known is None or known != lacks:
             return False
-        waiting.extend([(part, 0) for part in parts])
     return True

@@ -13,7 +13,7 @@ class Shaping:
     def __init__(self, book):
         self.book = book
         # A node that is known by another one, with what its shape has more than that one.
-        self.above = {}
+        self.above = {("place", name, 0): (WHOLE, 0) for name in ("same", "order", "words")}
         # The least shape beside a node among those that are known by it.
         self.lows = {}
 

@@ -1,14 +1,14 @@
 """All papers for a need in their order, each made by its rank, without those before it."""
 
-from leastneeds.charts import steps_from
-from leastneeds.needs import need_text
+from leastneeds.charts import look_at
+from leastneeds.needs import need_key
 
 
 class Tally:
     """How many papers of each size there are for the needs of a plan, in a context."""
 
     def __init__(self, book, needs, chart, plan):
-        self.starts = [need_text(need) for need in needs]
+        self.starts = [need_key(need) for need in needs]
         self.exits = steps_in(book, chart)
         self.entries = entries_of(self.exits)
         # Of each need: the numbers of ways to it through the chart, by their lengths.
@@ -110,16 +110,16 @@ def chosen(numbers, rank):
 
 
 def steps_in(book, chart):
-    """The steps from all needs of a chart, by their texts: lists of tuples (step, text)."""
+    """The steps from all needs of a chart, by their keys: lists of tuples (step, key)."""
     found = {}
     for word in chart:
-        steps = steps_from(book, chart[word][0])
-        found[word] = [(step, need_text(other)) for step, other in steps]
+        steps = look_at(book, chart[word][0], word)[1]
+        found[word] = [(step, key) for step, _, key in steps]
     return found
 
 
 def entries_of(exits):
-    """From which needs steps lead to each need of a chart: lists of texts, one for each step."""
+    """From which needs steps lead to each need of a chart: lists of keys, one for each step."""
     found = {word: [] for word in exits}
     for word in exits:
         for _, other in exits[word]:

@@ -68,7 +68,7 @@ class Walk:
 
     def walked_declared(self, name):
         """A name that is bound by no function, arm or let."""
-        scheme = self.schemes[name]
+        scheme = self.schemes.at(name)
         if scheme is None:
             return self.graph.fresh(), ("hole",)
         by = {word: self.graph.fresh() for word in scheme.variables}

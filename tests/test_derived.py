@@ -6,8 +6,7 @@ from leastneeds.contexts import entails
 from leastneeds.declarations import Case, Data, Derive
 from leastneeds.derived import derived, wanted
 from leastneeds.errors import Underivable, UnknownName
-from leastneeds.kinds import con, to, var
-from leastneeds.needs import need_text
+from leastneeds.kinds import con, part_text, to, var
 from leastneeds.program import Program
 from leastneeds.reader import read_kind, read_term
 
@@ -75,7 +74,7 @@ class TestWanted(unittest.TestCase):
 
 class TestNeeds(unittest.TestCase):
     def needs_of(self, found, name):
-        return {need_text(row) for row in derived(found, name).needs}
+        return {" ".join([row[0]] + [part_text(kind) for kind in row[1:]]) for row in derived(found, name).needs}
 
     def test_examples(self):
         found = program(LIST, PAIR, NEST, MARK, *derives("list"), *derives("pair"), *derives("nest"), *derives("mark"))

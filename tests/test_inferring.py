@@ -239,7 +239,7 @@ class TestLets(TermCase):
 
 class TestDefinitions(unittest.TestCase):
     def tells(self, lines, name, scheme):
-        found = program(*BASE, *lines).findings.schemes[name]
+        found = program(*BASE, *lines).findings.schemes.at(name)
         self.assertEqual(found, read_scheme(scheme), f"{found.kind} {found.needs}")
 
     def test_one_by_itself(self):
@@ -436,7 +436,7 @@ class TestPicks(unittest.TestCase):
         ]
         found = program(*lines).findings
         self.assertEqual(found.faulty, {})
-        self.assertEqual(found.schemes["f"], read_scheme("whole -> whole"))
+        self.assertEqual(found.schemes.at("f"), read_scheme("whole -> whole"))
 
 
 if __name__ == "__main__":

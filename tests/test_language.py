@@ -17,7 +17,7 @@ BUILTINS = set(
 METHODS = set(
     "append clear copy count endswith extend find get index insert isalnum isalpha isdigit islower isspace "
     "isupper items join keys ljust lower lstrip partition pop remove replace reverse rfind rjust rpartition "
-    "rsplit rstrip setdefault split splitlines startswith strip update upper values zfill bit_length add "
+    "rsplit rstrip setdefault split splitlines startswith strip update upper values zfill bit_length add isascii "
     "discard sort".split()
 )
 DUNDERS = set("__init__ __eq__ __repr__ __str__ __len__ __enter__ __exit__ __call__ __iter__".split())
