@@ -24,6 +24,8 @@ class Book:
         self.shapes = {}
         # What needs come to, as far as it was asked for, by the keys of the needs.
         self.looks = {}
+        # The first papers for needs above cases, as far as they were asked for, by case and index.
+        self.papers_above = {}
         for data in basic_data():
             self.write_data(data)
         for role in basic_roles():

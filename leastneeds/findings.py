@@ -23,6 +23,8 @@ class Findings:
         self.rings = definition_rings(book, self.used)
         # The schemes of names in terms; None for a definition whose uses count as holes.
         self.schemes = Known(book)
+        # The marked terms, as far as they were asked for, by their wheres.
+        self.kept_marks = {}
         # The faults of definitions, at first without those that come from others.
         self.faulty = {}
         for ring in self.rings:
@@ -58,6 +60,12 @@ class Findings:
             return Study(self.book, self.schemes, [("", term_in(self.book, where))], due_in(self.book, where)), 0
         ring = [names for names in self.rings if where[1] in names][0]
         return self.study_of(ring), sorted(ring).index(where[1])
+
+    def finished_study(self, where):
+        """As `study_at`, with the least context of the needs."""
+        study, index = self.study_at(where)
+        study.reduce(self.picks)
+        return study, index
 
     def fault_in(self, where):
         """The fault at a where, or None."""

@@ -1,7 +1,7 @@
 """Marked terms: terms with the kinds and the papers of each use of a name."""
 
 from leastneeds.errors import Faulty, UnknownName
-from leastneeds.marking import marked_term
+from leastneeds.marking import Marker
 from leastneeds.wheres import due_in, is_where
 
 
@@ -17,10 +17,15 @@ def due(program, where):
 def marked(program, where):
     """The marked term with the least schemes and first papers."""
     check_where(program, where)
-    findings = program.findings
-    study, index = findings.study_at(where)
-    study.reduce(findings.picks)
-    return marked_term(study, index)
+    return marked_in(program.findings, where)
+
+
+def marked_in(findings, where):
+    """The marked term at a where of a program without faults."""
+    if where not in findings.kept_marks:
+        study, index = findings.finished_study(where)
+        findings.kept_marks[where] = Marker(study, index).marked_term()
+    return findings.kept_marks[where]
 
 
 def check_where(program, where):

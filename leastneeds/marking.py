@@ -12,6 +12,7 @@ class Marker:
     def __init__(self, study, index):
         self.book = study.book
         self.study = study
+        self.index = index
         # The kinds of free nodes: variables with names of their own, first those of the scheme.
         self.by = {}
         self.used_names = list(study.fixed)
@@ -23,6 +24,10 @@ class Marker:
                 self.used_names.append(name)
             needs = put_needs(study.needs, {str(node): self.by[node] for node in variables})
         self.needs = list(needs)
+
+    def marked_term(self):
+        """The marked term."""
+        return self.marks(self.study.sketches[self.index], context_of(self.book, self.needs))
 
     def named_kinds(self, nodes):
         """The kinds of nodes, a tuple; free nodes that have no name yet get one."""
@@ -57,8 +62,9 @@ class Marker:
         if word == "given":
             return ("given", sketch[1], self.named_kinds([sketch[2]])[0], self.marks(sketch[3], given))
         if word == "match":
+            subject = self.marks(sketch[1], given)
             arms = [(row[0], row[1], self.marks(row[2], given)) for row in sketch[2]]
-            return ("match", self.marks(sketch[1], given), tuple(arms))
+            return ("match", subject, tuple(arms))
         if word == "let":
             return self.let_marks(sketch[1], sketch[2], given)
         return sketch
@@ -91,7 +97,27 @@ class Marker:
     def papers_for(self, needs, given):
         """The first papers for needs with nodes, a tuple."""
         plans = [plan_of(self.book, self.named_need(need)) for need in needs]
-        return tuple([first_paper(plan, given[1]) for plan in plans])
+        return tuple([self.paper_for(plan, given) for plan in plans])
+
+    def paper_for(self, plan, given):
+        """What stands where a paper for the need of a plan is due."""
+        return first_paper(plan, given[1])
+
+
+class SlotMarker(Marker):
+    """As Marker, but where papers are due stand slots: ("slot", k) with the index of each one.
+
+    `slots` has for each one the needs of the context there, their chart, the plan of its need, and the
+    first paper.
+    """
+
+    def __init__(self, study, index):
+        Marker.__init__(self, study, index)
+        self.slots = []
+
+    def paper_for(self, plan, given):
+        self.slots.append((given[0], given[1], plan, first_paper(plan, given[1])))
+        return ("slot", len(self.slots) - 1)
 
 
 def scheme_nodes(study, index):
@@ -108,9 +134,3 @@ def own_marks(name, kinds, start, many):
 def context_of(book, needs):
     """A context as `marks` takes it."""
     return needs, chart_of(book, needs)
-
-
-def marked_term(study, index):
-    """The marked term of one of the terms of a study that is finished."""
-    marker = Marker(study, index)
-    return marker.marks(study.sketches[index], context_of(marker.book, marker.needs))

@@ -10,7 +10,11 @@ from leastneeds.shapes import is_need_in
 def is_paper(context, need, value):
     """Whether any value is a right paper for a need in a context."""
     check_need(context.program, need)
-    book = context.program.book
+    return is_paper_among(context.program.book, context.needs, need, value)
+
+
+def is_paper_among(book, needs, need, value):
+    """Whether any value is a right paper for a need in a context of needs."""
     # Papers may lie deep in one another, so nothing calls itself here.
     waiting = [(need, value)]
     while waiting:
@@ -18,7 +22,7 @@ def is_paper(context, need, value):
         if not isinstance(paper, tuple) or len(paper) != 3:
             return False
         if paper[0] == "given":
-            if need_at(context, paper[1], paper[2]) != part:
+            if need_at(book, needs, paper[1], paper[2]) != part:
                 return False
         elif paper[0] == "case":
             case = case_at(book, part)
@@ -32,15 +36,15 @@ def is_paper(context, need, value):
     return True
 
 
-def need_at(context, index, path):
+def need_at(book, needs, index, path):
     """The need to which a path leads from the need with an index; None for any values that are none."""
-    if not is_integer(index) or not 0 <= index < len(context.needs) or not isinstance(path, tuple):
+    if not is_integer(index) or not 0 <= index < len(needs) or not isinstance(path, tuple):
         return None
-    need = context.needs[index]
+    need = needs[index]
     for step in path:
         if not isinstance(step, tuple) or len(step) != 2 or not is_integer(step[1]):
             return None
-        others = needs_by(context.program.book, need, step[0])
+        others = needs_by(book, need, step[0])
         if not 0 <= step[1] < len(others):
             return None
         need = others[step[1]]

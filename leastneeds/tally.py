@@ -12,13 +12,13 @@ class Tally:
         self.exits = steps_in(book, chart)
         self.entries = entries_of(self.exits)
         # Of each need: the numbers of ways to it through the chart, by their lengths.
-        self.ways = {}
+        self.routes = {}
         # Of each need: the name of its case, its parts, and the tables that `rests_of` tells.
         self.cases = {}
         # Of each need: the numbers of its papers, by their sizes.
         self.numbers = {}
         for _, word, name, parts in plan:
-            self.ways[word] = self.ways_to(word) if word in chart else []
+            self.routes[word] = self.ways_to(word) if word in chart else []
             self.cases[word] = (name, parts, rests_of([self.numbers[part] for part in parts]))
             self.numbers[word] = self.numbers_of(word)
 
@@ -37,14 +37,14 @@ class Tally:
 
     def given_count(self, word, length):
         """How many papers "given" with a path so long there are."""
-        if length >= len(self.ways[word]):
+        if length >= len(self.routes[word]):
             return 0
-        return sum([self.ways[word][length].get(start, 0) for start in self.starts])
+        return sum([self.routes[word][length].get(start, 0) for start in self.starts])
 
     def numbers_of(self, word):
         """The numbers of papers, by their sizes, from what is known of the parts."""
         found = {}
-        for length in range(len(self.ways[word])):
+        for length in range(len(self.routes[word])):
             many = self.given_count(word, length)
             if many > 0:
                 found[length + 1] = many
@@ -72,11 +72,11 @@ class Tally:
 
     def given_paper(self, target, length, rank):
         """The paper "given" with this rank among those with a path so long."""
-        ways = self.ways[target]
-        index, rank = chosen([ways[length].get(word, 0) for word in self.starts], rank)
+        routes = self.routes[target]
+        index, rank = chosen([routes[length].get(word, 0) for word in self.starts], rank)
         word = self.starts[index]
         path = ()
-        for now in reversed(ways[:length]):
+        for now in reversed(routes[:length]):
             exits = self.exits[word]
             at, rank = chosen([now.get(other, 0) for _, other in exits], rank)
             step, word = exits[at]

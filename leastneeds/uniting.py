@@ -88,12 +88,26 @@ def fits(patterns, kinds):
     while waiting:
         pattern, kind = waiting.pop()
         if pattern[0] == "var":
-            if pattern[1] in found and found[pattern[1]] != kind:
+            if pattern[1] in found and not is_same_kind(found[pattern[1]], kind):
                 return None
             found[pattern[1]] = kind
         elif pattern[0] == "apply" and kind[0] == "apply":
             waiting.append((pattern[2], kind[2]))
             waiting.append((pattern[1], kind[1]))
-        elif pattern != kind:
+        elif pattern[0] != kind[0] or pattern[1] != kind[1]:
             return None
     return found
+
+
+def is_same_kind(one, other):
+    """Whether two kinds are the same."""
+    # Kinds in runs may be nested deeper than Python compares tuples.
+    waiting = [(one, other)]
+    while waiting:
+        one, other = waiting.pop()
+        if one[0] == "apply" and other[0] == "apply":
+            waiting.append((one[2], other[2]))
+            waiting.append((one[1], other[1]))
+        elif one[0] != other[0] or one[1] != other[1]:
+            return False
+    return True

@@ -18,6 +18,13 @@ def is_where(book, value):
     return False
 
 
+def term_at(book, where):
+    """The term at a where."""
+    if where[0] == "definition":
+        return book.definitions[where[1]].term
+    return term_in(book, where)
+
+
 def term_in(book, where):
     """The term of a default or of the member of a case."""
     if where[0] == "role":
