@@ -1,6 +1,6 @@
 """Terms in which some parts are holes."""
 
-from leastneeds.terms import parts_in, parts_of_term
+from leastneeds.terms import part_at, parts_in, parts_of_term, places
 
 HOLE = ("hole",)
 
@@ -45,3 +45,30 @@ def beginnings_of(terms, many):
         found.append(beginning_of(term, left))
         left -= count_of(term)
     return found
+
+
+def with_holes(term, row):
+    """The term with holes at places, none of them inside another one."""
+    if () in row:
+        return HOLE
+    if len(row) == 0:
+        return term
+    parts = []
+    for k, part in enumerate(parts_in(term)):
+        parts.append(with_holes(part, [place[1:] for place in row if place[0] == k]))
+    return with_parts(term, parts)
+
+
+def places_in(term):
+    """All places of a term in reading order, a list."""
+    return list(places(term))
+
+
+def leaves_in(term):
+    """The places of names, wholes and texts in a term, in reading order, a list."""
+    return [place for place in places_in(term) if part_at(term, place)[0] in ("name", "whole", "text")]
+
+
+def is_around(place, other):
+    """Whether a place is another one or around it."""
+    return other[: len(place)] == place

@@ -25,6 +25,8 @@ class Findings:
         self.schemes = Known(book)
         # The marked terms, as far as they were asked for, by their wheres.
         self.kept_marks = {}
+        # The uses that ask needs, as far as they were asked for, by the names of definitions.
+        self.kept_uses = {}
         # The faults of definitions, at first without those that come from others.
         self.faulty = {}
         for ring in self.rings:
@@ -60,6 +62,12 @@ class Findings:
             return Study(self.book, self.schemes, [("", term_in(self.book, where))], due_in(self.book, where)), 0
         ring = [names for names in self.rings if where[1] in names][0]
         return self.study_of(ring), sorted(ring).index(where[1])
+
+    def study_with(self, where, term):
+        """A look at the terms of the ring of a where, with another term in the place of its own."""
+        study, index = self.study_at(where)
+        rows = [(row[0], term if k == index else row[1]) for k, row in enumerate(study.rows)]
+        return Study(self.book, self.schemes, rows, study.told)
 
     def finished_study(self, where):
         """As `study_at`, with the least context of the needs."""
