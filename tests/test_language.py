@@ -96,9 +96,24 @@ class TestLanguage(unittest.TestCase):
 
     def test_only_own_errors_are_caught(self):
         for path, node in self.nodes(ast.Try):
-            self.assertFalse(node.finalbody)
+            for row in node.finalbody:
+                self.check_final(path, row)
             for handler in node.handlers:
                 self.assertNotIn(handler.type.id, dir(builtins))
+
+    def check_final(self, path, row):
+        """A statement of a finally: plain assignments, `-= 1`, and tests for None."""
+        if isinstance(row, ast.If):
+            test = row.test
+            fine = isinstance(test, ast.Compare) and isinstance(test.ops[0], (ast.Is, ast.IsNot))
+            self.assertTrue(fine and test.comparators[0].value is None)
+            for inner in row.body + row.orelse:
+                self.check_final(path, inner)
+            return
+        self.assertIsInstance(row, (ast.Assign, ast.AugAssign))
+        for node in ast.walk(row):
+            if isinstance(node, (ast.Call, ast.Subscript, ast.BinOp, ast.Compare)):
+                self.fail_at(path, node, "in a finally")
 
     def test_imports(self):
         links = {}
