@@ -136,6 +136,17 @@ class TestWithin(unittest.TestCase):
         with self.assertRaises(InvalidScheme):
             within(PROGRAM, read_scheme("'a -> 'b if turns 'a 'b , turns 'b 'a"), read_scheme("whole if same 'c"))
 
+    def test_no_scheme_of_the_program(self):
+        fine = read_scheme("'a")
+        texts = ("zzz", "list zzz", "'a if zzz 'a", "'a if same 'a 'a", "'a if turns 'a", "'a if same zzz")
+        shapes = ("list", "whole whole", "'a if same list", "'a -> 'a whole", "'a if turns 'a to", "'f -> 'a if same ( 'f 'a )")
+        values = [read_scheme(text) for text in texts + shapes]
+        for value in values + [None, True, 7, "'a", ("var", "a"), [fine], PROGRAM, ("con", "whole"), {}, fine.kind]:
+            for one, two in ((value, fine), (fine, value), (value, None)):
+                with self.assertRaises(InvalidScheme) as caught:
+                    within(PROGRAM, one, two)
+                self.assertIs(caught.exception.value, value)
+
 
 if __name__ == "__main__":
     unittest.main()
