@@ -18,9 +18,14 @@ def cut(term, *places):
 def core(program, where):
     """The places of the holes of the core of the term at a where, a tuple."""
     check_place(program, where)
-    found = core_holes(program, where)
-    if found is None:
+    term = term_at(program.book, where)
+    if not is_bad_term(program, where, term):
         raise NoCore(where)
+    found = ()
+    for place in places_in(term):
+        if not any([is_around(hole, place) for hole in found]):
+            if is_bad_term(program, where, with_holes(term, found + (place,))):
+                found = found + (place,)
     return found
 
 
@@ -33,44 +38,35 @@ def is_bad(program, where, *places):
 def mends(program, where, most):
     """The sets of at most so many leaves whose cut is not bad, the least ones, a list of tuples of places."""
     check_place(program, where)
-    holes = core_holes(program, where)
-    if holes is None:
-        return [()]
     term = term_at(program.book, where)
+    if not is_bad_term(program, where, term):
+        return [()]
     leaves = leaves_in(term)
-    # What is cut within the holes of the core alone leaves all that is bad there.
-    ahead = {leaf: True for leaf in leaves if not any([is_around(hole, leaf) for hole in holes])}
-    single = {leaf: True for leaf in ahead if not is_bad_term(program, where, with_holes(term, (leaf,)))}
-    rows = [(leaf,) for leaf in single]
-    if most == 1:
-        return rows
-    pairs = pairs_of([leaf for leaf in leaves if leaf not in single])
-    pairs = [pair for pair in pairs if pair[0] in ahead or pair[1] in ahead]
-    return rows + [pair for pair in pairs if not is_bad_term(program, where, with_holes(term, pair))]
+    single = mending(program, where, (), leaves)
+    found = [(leaf,) for leaf in single]
+    others = [leaf for leaf in leaves if leaf not in single]
+    if most == 2:
+        for k, leaf in enumerate(others):
+            found.extend([(leaf, other) for other in mending(program, where, (leaf,), others[k + 1 :])])
+    return found
 
 
-def pairs_of(leaves):
-    """All pairs of different leaves, ascending, a list."""
-    return [(leaf, other) for k, leaf in enumerate(leaves) for other in leaves[k + 1 :]]
+def mending(program, where, holes, leaves):
+    """The leaves each of which, together with some holes, makes a cut that is not bad, a list."""
+    term = term_at(program.book, where)
+    # What is bad with all of these holes is bad with fewer ones, too.
+    if len(leaves) == 0 or is_bad_term(program, where, with_holes(term, holes + tuple(leaves))):
+        return []
+    if len(leaves) == 1:
+        return leaves
+    half = len(leaves) // 2
+    return mending(program, where, holes, leaves[:half]) + mending(program, where, holes, leaves[half:])
 
 
 def check_place(program, where):
     """Raise UnknownName for any value that is no where."""
     if not is_where(program.book, where):
         raise UnknownName(where)
-
-
-def core_holes(program, where):
-    """The places of the holes of the core of a term, a tuple; None if the term is not bad."""
-    term = term_at(program.book, where)
-    if not is_bad_term(program, where, term):
-        return None
-    found = ()
-    for place in places_in(term):
-        if not any([is_around(hole, place) for hole in found]):
-            if is_bad_term(program, where, with_holes(term, found + (place,))):
-                found = found + (place,)
-    return found
 
 
 def is_bad_term(program, where, term):

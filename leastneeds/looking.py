@@ -142,8 +142,7 @@ class Look:
     def kind_of_let(self, term, value, scope, needs):
         terms = dict(term[1])
         uses = {name: [other for other in free_names(terms[name]) if other in terms] for name in terms}
-        # What is bound around by the same names is hidden in all terms of the let.
-        inner = {name: scope[name] for name in scope if name not in terms}
+        inner = {name: scope[name] for name in scope}
         for ring in rings_of(list(terms), uses):
             check(has_form(value, "let", 3) and are_tuples_of(value[1], len(ring), 5))
             self.check_ring(ring, terms, value[1], inner, needs)

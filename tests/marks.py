@@ -158,20 +158,20 @@ class Checker:
         holds(all(kind == found[0] for kind in found), "arms")
         return found[0]
 
-    def taken(self, scope, context, hidden):
-        """The variables around a ring of a let, but for those of names that the let hides."""
+    def taken(self, scope, context):
+        """The variables around a ring of a let."""
         found = set(variables_of(self.kind, *kinds_in(context)))
-        for name, entry in scope.items():
+        for entry in scope.values():
             if entry[0] == "let":
                 found |= set(variables_of(entry[3], *kinds_in(entry[2]))) - set(entry[1])
-            elif name not in hidden:
+            else:
                 found |= set(variables_of(entry[1]))
         return found
 
     def kind_of_let(self, term, value, scope, context):
         terms = dict(term[1])
         uses = {name: [other for other in free_names(terms[name]) if other in terms] for name in terms}
-        scope = {name: entry for name, entry in scope.items() if name not in terms}
+        scope = dict(scope)
         for ring in rings_of(list(terms), uses):
             holds(isinstance(value, tuple) and len(value) == 3 and value[0] == "let", "let")
             holds(isinstance(value[1], tuple) and all(isinstance(row, tuple) and len(row) == 5 for row in value[1]), "rows")
@@ -181,7 +181,7 @@ class Checker:
             holds(isinstance(variables, tuple) and all(is_name(name) for name in variables), "names of variables")
             holds(isinstance(needs, tuple) and all(self.is_need(need) for need in needs), "needs")
             holds(len(set(variables)) == len(variables), "different variables")
-            holds(not self.taken(scope, context, ring) & set(variables), "variables around")
+            holds(not self.taken(scope, context) & set(variables), "variables around")
             inner = dict(scope)
             for row in value[1]:
                 holds(is_kind(row[3]), "kind of a name of a let")

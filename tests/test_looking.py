@@ -203,10 +203,15 @@ class TestLets(LookCase):
         self.wrong("at", renamed(value, own, inner), hidden)
 
     def test_names_that_the_let_itself_hides(self):
-        program = Program.read("define at = ( given p . let p = given y . y in 1 ) nil\ndata list 'a = nil")
+        # The parameter is around the ring of p, and no nearer name around hides it there, only in the body.
+        program = Program.read("define at = ( given p . let p = given y . y in let q = given y . y in 1 ) nil\ndata list 'a = nil")
         value = marked(program, where("at"))
         outer = value[1][2][2][1]
-        self.right("at", renamed(value, value[1][3][1][0][1][0], outer), program)
+        first, then = value[1][3][1][0][1][0], value[1][3][2][1][0][1][0]
+        self.assertEqual(len({outer, first, then}), 3)
+        self.wrong("at", renamed(value, first, outer), program)
+        self.right("at", renamed(value, then, outer), program)
+        self.right("at", renamed(value, then, first), program)
 
     def test_needs_in_another_order_and_twice(self):
         text = "define it = let p = given x . given y . match alike x x | no = no | yes = alike y y end in p 1 \"t\""
