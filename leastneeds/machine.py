@@ -5,6 +5,7 @@ from leastneeds.looking import is_marked
 from leastneeds.marked import marked_in
 from leastneeds.plain import argument_count, check_run, outcome_of
 from leastneeds.recording import recorded
+from leastneeds.records import record_in
 from leastneeds.running import Run
 from leastneeds.wheres import is_where
 
@@ -47,7 +48,10 @@ class Compiled:
         """A run of a definition with records, at its beginning."""
         check_run(self.program, name, limit)
         steps = Run(RecordHome(self), limit)
-        steps.begin(("definition", name), ())
+        # Without variables, the needs of the scheme are met from no needs.
+        needs = self.program.findings.schemes.at(name).needs
+        context = tuple([record_in(self.program.book, need) for need in needs])
+        steps.begin(("definition", name), context)
         return steps
 
 

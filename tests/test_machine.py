@@ -270,6 +270,34 @@ class TestRuns(unittest.TestCase):
         self.assertEqual(Compiled(program).run("it", limit=2000), run(program, "it", limit=2000))
         self.assertEqual(run(program, "it", limit=2000).ending, "value")
 
+    def test_needs_without_variables(self):
+        # Told schemes may have needs that are met from nothing: the run begins with their records.
+        program = Program.read(
+            "data list 'a = nil | cons 'a ( list 'a )\nderive slist : same list\nderive olist : order list\n"
+            "role turns 'a 'b\nmember turn : 'a -> 'b\ncase turnw : turns whole text\nas turn = spell\n"
+            "case turnl : turns ( list 'a ) ( list 'b ) if turns 'a 'b , same whole\n"
+            "as turn = given l . match l | nil = nil | cons h t = match alike 1 1 | no = nil | yes = cons ( turn h ) ( turn t ) end end\n"
+            "define one : truth if same whole = alike 1 2\n"
+            "define two : text if same text , turns whole text , order ( list whole ) = match alike ( cons 1 nil ) nil "
+            "| no = turn 7 | yes = \"\" end\n"
+            "define three : list text if turns ( list whole ) ( list text ) = turn ( cons 1 ( cons 2 nil ) )\n"
+            "define four = cons two three"
+        )
+        self.assertEqual(program.faults, ())
+        machine = Compiled(program)
+        texts = [("text", "1"), ("text", "2")]
+        items = ("made", "nil", ())
+        for text in reversed(texts):
+            items = ("made", "cons", (text, items))
+        told = {"one": ("made", "no", ()), "two": ("text", "7"), "three": items, "four": ("made", "cons", (("text", "7"), items))}
+        for name, value in told.items():
+            self.assertEqual(machine.term_at(where(name)), Compiled(program).term_at(where(name)))
+            self.assertEqual(machine.run(name).result, value)
+            self.assertEqual(machine.run(name), run(program, name))
+            self.assertEqual(list(machine.events(name)), list(events(program, name)))
+            for value in itertools.islice(ways(program, where(name)), 8):
+                self.assertEqual(Compiled(program, (where(name), value)).run(name), run(program, name))
+
     def test_errors(self):
         machine = Compiled(PROGRAM)
         for name in ("zzz", "plus", None, True, 7, (), [], where("ra"), PROGRAM):
