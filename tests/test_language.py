@@ -125,9 +125,6 @@ class TestLanguage(unittest.TestCase):
                 self.assertNotIsInstance(node, ast.Import)
                 if isinstance(node, ast.ImportFrom):
                     self.assertIs(node.parent, tree)
-                    if node.module == "heapq":
-                        self.assertLessEqual({alias.name for alias in node.names}, {"heappush", "heappop"})
-                        continue
                     self.assertTrue(node.module.startswith("leastneeds.") and node.level == 0)
                     links[module].append(node.module)
                     source = os.path.join(PACKAGE, node.module.split(".")[1] + ".py")

@@ -1,5 +1,6 @@
 """The example of README.md does what is written beside it."""
 
+import ast
 import os
 import re
 import unittest
@@ -12,14 +13,16 @@ class TestReadme(unittest.TestCase):
         with open(os.path.join(ROOT, "README.md"), encoding="ascii") as file:
             code = re.search(r"```python\n(.*?)```", file.read(), re.S).group(1)
         names = {}
-        exec(code, names)
         count = 0
-        for line in code.split("\n"):
-            if " # " in line or "  # " in line:
-                asked, told = line.rsplit("#", 1)
-                self.assertEqual(eval(asked.strip(), names), eval(told.strip()))
+        for row in ast.parse(code).body:
+            text = "\n".join(code.split("\n")[row.lineno - 1 : row.end_lineno])
+            if "  # " in text:
+                asked, told = text.rsplit("#", 1)
+                self.assertEqual(eval(asked.strip(), names), eval(told.strip()), text)
                 count += 1
-        self.assertEqual(count, 10)
+            else:
+                exec(text, names)
+        self.assertEqual(count, 23)
 
 
 if __name__ == "__main__":
