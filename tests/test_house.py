@@ -260,6 +260,9 @@ class TestDeeds(HouseCase):
             ("picks", WHOLE[0]),
             ("picks", {}),
             ("picks",),
+            ("pick", []),
+            ("data", ()),
+            (None, []),
             PROGRAM,
             house,
         ):
@@ -356,6 +359,56 @@ class TestLooked(HouseCase):
         program = PROGRAM.with_more(define("big", "given x . grow x"), define("aa", "given x . big x"))
         found = self.changes([("replace", Role("grows", ("a",), role.members))], [c("groww", "grow"), d("aa"), d("big")], [], program)
         self.assertTrue(found.program.is_right)
+
+    def test_roles_behind_roles(self):
+        # Needs above a role, needs of its members and needs of its cases, each by itself and one behind the other.
+        said = read_term('given x . ""')
+        last = Role("last", ("a",), [("lasts", to(A, TEXT), (), None)])
+        other = Role("last", ("a",), last.members + (("extra", to(A, TEXT), (), said),))
+        unit = Data("unit", ("a",), (("only", (A,)),))
+        nexts = [("next", to(A, TEXT), (), None)]
+        more = ("more", to(A, B, TEXT), [("last", B)], read_term('given x . given y . ""'))
+        far = Role("far", ("a",), [("fars", to(A, TEXT), (), read_term("given x . next x"))], above=[("link", A)])
+        cases = [
+            Case("lastw", "last", [WHOLE], [("lasts", said)]),
+            Case("linkw", "link", [WHOLE], [("next", said)]),
+            Case("farw", "far", [WHOLE], []),
+        ]
+        rows = [define("by", "given x . fars x"), define("at", "given x . alike x x")]
+        links = {
+            "above": ([Role("link", ("a",), nexts, above=[("last", A)])], []),
+            "member": ([Role("link", ("a",), nexts + [more])], [(("role", "link", "more"),)]),
+            "case": (
+                [Role("link", ("a",), nexts), Case("linku", "link", [con("unit", A)], [("next", said)], needs=[("last", A)])],
+                [c("linku", "next")],
+            ),
+        }
+        every = [(("role", "last", "extra"),), c("lastw", "lasts"), c("linkw", "next"), (("role", "far", "fars"),), d("by")]
+        for link, looked in links.values():
+            program = Program(last, unit, *link, far, *cases, *rows)
+            self.assertTrue(program.is_right)
+            self.changes([("replace", other)], every + looked, [], program)
+        program = Program(last, unit, Role("link", ("a",), nexts), far, *cases, *rows)
+        self.changes([("replace", other)], [every[0], every[1]], [], program)
+
+    def test_members_that_are_not_used(self):
+        for more in (("old", to(A, TEXT), (), None), ("new", to(A, WHOLE), (), None), ("new", to(A, TEXT), [("same", A)], None)):
+            rows = [("used", to(A, TEXT), (), None)]
+            program = Program(Role("most", ("a",), rows + [("new", to(A, TEXT), (), None)]), define("by", "given x . used x"))
+            self.changes([("replace", Role("most", ("a",), rows + [more]))], [d("by")], [], program)
+        program = Program(Role("most", ("a",), rows), define("by", "given x . used x"))
+        self.changes([("replace", Role("most", ("b",), [("used", to(B, TEXT), (), None)]))], [d("by")], [], program, marks=False)
+
+    def test_names_that_stand_for_something_else(self):
+        # The terms stay, what their names stand for does not.
+        program = Program(define("thing", "given x . x"), define("by", "given x . thing x"), define("at", "given x . x"))
+        takes = ("take", ("definition", "thing"))
+        role = Role("things", ("a",), [("thing", to(A, A), (), None)])
+        self.changes([takes, ("put", role)], [d("by")], d("by"), program)
+        data = Data("things", ("a",), (("thing", (A,)),))
+        self.changes([takes, ("put", data)], [d("by")], d("by"), program)
+        self.changes([("take", ("role", "things")), ("put", data)], [d("by")], d("by"), Program(role, *program.declarations[1:]))
+        self.changes([("take", ("data", "things")), ("put", program.declarations[0])], [d("by"), d("thing")], d("by", "thing"), Program(data, *program.declarations[1:]))
 
     def test_shapes(self):
         program = Program(
@@ -745,8 +798,9 @@ class TestCopies(HouseCase):
     def test_they_change_apart(self):
         for house in (House(PROGRAM), GuardedHouse(PROGRAM, ("right", "one"))):
             house.change(("put", define("aa", "1")))
-            house.change(("put", define("bb", "1")))
+            house.change(("put", define("bb", "1")), ("replace", define("aa", "yes")))
             house.undo()
+            self.assertEqual((house.looked, house.news), ((d("aa"),), d("aa")))
             before = self.state(house)
             other = house.copy()
             self.assertIs(other.__class__, house.__class__)
@@ -794,6 +848,12 @@ class TestCopies(HouseCase):
         self.assertFalse(guarded == House(PROGRAM))
         self.assertFalse(House(PROGRAM) == guarded)
         self.assertTrue(guarded == GuardedHouse(PROGRAM))
+        self.assertFalse(guarded == GuardedHouse(PROGRAM.with_more(define("aa", "1"))))
+        other = GuardedHouse(PROGRAM)
+        other.change()
+        self.assertFalse(guarded == other)
+        other.undo()
+        self.assertTrue(guarded == other)
         self.assertFalse(guarded == GuardedHouse(PROGRAM, ("right", "one")))
         guards = (("right", "one"), ("right", "twice"))
         self.assertTrue(GuardedHouse(PROGRAM, *guards) == GuardedHouse(PROGRAM, *guards))
@@ -801,6 +861,15 @@ class TestCopies(HouseCase):
         for value in (PROGRAM, None, 1, "house", (), []):
             self.assertFalse(one == value)
             self.assertFalse(guarded == value)
+
+
+class TestLimits(HouseCase):
+    def test_of_runs(self):
+        house = House(Program(define("more", "given x . more x"), define("it", "plus 1 ( more 1 )")))
+        self.assertEqual(house.run("it").steps, 1000)
+        self.assertEqual(house.run("it", limit=7).steps, 7)
+        for limit in (-1, 2001, True, None):
+            self.refuses(house, InvalidLimit, lambda: house.run("it", limit=limit), limit=limit)
 
 
 class TestHistories(HouseCase):
