@@ -54,9 +54,7 @@ class Marker:
         if word == "own":
             return own_marks(sketch[1], self.named_kinds(sketch[2].generic), sketch[2].start, len(sketch[2].asked))
         if word == "ring":
-            index = [row[0] for row in self.study.rows].index(sketch[1])
-            kinds = self.named_kinds(scheme_nodes(self.study, index))
-            return own_marks(sketch[1], kinds, 0, len(self.study.needs))
+            return self.ring_name_marks(sketch[1], given)
         if word == "use":
             return ("use", self.marks(sketch[1], given), self.marks(sketch[2], given))
         if word == "given":
@@ -68,6 +66,15 @@ class Marker:
         if word == "let":
             return self.let_marks(sketch[1], sketch[2], given)
         return sketch
+
+    def ring_name_marks(self, name, given):
+        """The marks of a definition of the ring: only those of the own one have no other papers."""
+        index = [row[0] for row in self.study.rows].index(name)
+        kinds = self.named_kinds(scheme_nodes(self.study, index))
+        if index == self.index:
+            return own_marks(name, kinds, 0, len(self.needs))
+        plans = [plan_of(self.book, need) for need in self.needs]
+        return ("name", name, kinds, tuple([self.paper_for(plan, given) for plan in plans]))
 
     def member_marks(self, sketch, given):
         _, name, shared, need, own, needs = sketch

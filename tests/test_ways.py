@@ -111,6 +111,19 @@ class TestWays(unittest.TestCase):
         self.assertEqual(len(self.ways_of(program)), 1)
         self.assertEqual(len(self.ways_of(program, "at")), 1)
 
+    def test_another_name_of_the_ring(self):
+        # The let has the need of the ring once more, so what is used in its term has two papers for it.
+        program = based(
+            "define it = given x . let p = given y . match alike x x | no = at x | yes = it x end in p 1",
+            "define at = given x . it x",
+        )
+        value = marked(program, where("it"))
+        self.assertEqual(value[3][1][0][2], (("same", A),))
+        one, other = ("given", 0, ()), ("given", 1, ())
+        found = [papers_in(row) for row in self.ways_of(program)]
+        self.assertEqual(found, [[paper, then, one, one] for paper in (one, other) for then in (one, other)])
+        self.assertEqual(len(self.ways_of(program, "at")), 1)
+
     def test_members_and_defaults(self):
         program = based(
             "role odd 'a above same 'a , order 'a",
