@@ -49,29 +49,35 @@ class Findings:
 
     def study_of(self, ring):
         """A look at the terms of a ring."""
+        rows, told = self.ring_rows(ring)
+        return Study(self.book, self.schemes, rows, told)
+
+    def ring_rows(self, ring):
+        """The terms of a ring with their names, and what is told of it, as a study takes them."""
         definitions = [self.book.definitions[name] for name in sorted(ring)]
         told = definitions[0].told
         if told is not None:
-            return Study(self.book, self.schemes, [("", definitions[0].term)], (told.kind, told.needs))
-        rows = [(definition.name, definition.term) for definition in definitions]
-        return Study(self.book, self.schemes, rows, None)
+            return [("", definitions[0].term)], (told.kind, told.needs)
+        return [(definition.name, definition.term) for definition in definitions], None
 
-    def study_at(self, where):
-        """A look at the terms of the ring of a where, and the index of its own term there."""
+    def rows_at(self, where):
+        """As `ring_rows`, of the ring of a where, with the index of its own term there."""
         if where[0] != "definition":
-            return Study(self.book, self.schemes, [("", term_in(self.book, where))], due_in(self.book, where)), 0
+            return [("", term_in(self.book, where))], due_in(self.book, where), 0
         ring = [names for names in self.rings if where[1] in names][0]
-        return self.study_of(ring), sorted(ring).index(where[1])
+        rows, told = self.ring_rows(ring)
+        return rows, told, sorted(ring).index(where[1])
 
     def study_with(self, where, term):
         """A look at the terms of the ring of a where, with another term in the place of its own."""
-        study, index = self.study_at(where)
-        rows = [(row[0], term if k == index else row[1]) for k, row in enumerate(study.rows)]
-        return Study(self.book, self.schemes, rows, study.told)
+        rows, told, index = self.rows_at(where)
+        rows[index] = (rows[index][0], term)
+        return Study(self.book, self.schemes, rows, told)
 
     def finished_study(self, where):
-        """As `study_at`, with the least context of the needs."""
-        study, index = self.study_at(where)
+        """A look at the terms of the ring of a where, with their least context, and the index of its own term."""
+        rows, told, index = self.rows_at(where)
+        study = Study(self.book, self.schemes, rows, told)
         study.reduce(self.picks)
         return study, index
 

@@ -37,7 +37,8 @@ class Layout:
         # More roles may come behind those that are there.
         waiting = [entry[1] for entry in found if entry[0] == "role"]
         while waiting:
-            for role in self.roles_behind(waiting.pop()):
+            behind = self.roles_behind(waiting.pop())
+            for role in behind:
                 if ("role", role) not in found:
                     found[("role", role)] = True
                     waiting.append(role)

@@ -43,7 +43,8 @@ def parts_of(value):
     waiting = [value]
     while waiting:
         many += 1
-        waiting.extend(inner_values(waiting.pop()))
+        part = waiting.pop()
+        waiting.extend(inner_values(part))
     return many
 
 

@@ -63,8 +63,13 @@ def simple_text(term):
 
 def use_text(term):
     """The text of a use."""
-    function = write_term(term[1]) if term[1][0] == "use" else inner_text(term[1])
-    return function + " " + inner_text(term[2])
+    # A line may have a function with so many arguments that nothing calls itself for them.
+    arguments = []
+    function = term
+    while function[0] == "use":
+        arguments = [inner_text(function[2])] + arguments
+        function = function[1]
+    return " ".join([inner_text(function)] + arguments)
 
 
 def inner_text(term):

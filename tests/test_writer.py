@@ -116,6 +116,8 @@ class TestTerms(unittest.TestCase):
         self.writes(use(use(f, use(f, x)), y), "f ( f x ) y")
         self.writes(use(whole(1), text("a")), '1 "a"')
         self.writes(use(("hole",), ("hole",)), "_ _")
+        # A line has at most 400 pieces.
+        self.writes(use(*[f] * 400), " ".join(["f"] * 400))
 
     def test_parentheses_in_uses(self):
         x = name("x")
