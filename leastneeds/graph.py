@@ -55,7 +55,7 @@ class Graph:
         """The node of the functions from one to the other."""
         return self.made(("apply", self.made(("apply", self.leaf(("con", "to")), one)), other))
 
-    def join(self, one, other):
+    def unify(self, one, other):
         """Make two nodes the same; NoKinds if their leaves differ."""
         waiting = [(one, other)]
         while waiting:

@@ -25,7 +25,7 @@ class Shaping:
             more += step
         return node, more
 
-    def join(self, node, other, more):
+    def relate(self, node, other, more):
         """Make the shape of a node so much more than that of the other; whether this can be."""
         root, above = self.root_of(node)
         other_root, other_above = self.root_of(other)
@@ -52,9 +52,9 @@ class Shaping:
             head, parts = spine_of(part)
             waiting.extend([(inner, WHOLE) for inner in parts])
             if head[0] == "con":
-                fine = self.join(place, WHOLE, self.book.lacks[head[1]] - len(parts))
+                fine = self.relate(place, WHOLE, self.book.lacks[head[1]] - len(parts))
             else:
-                fine = self.join(owner.node_of(head[1]), place, len(parts))
+                fine = self.relate(owner.node_of(head[1]), place, len(parts))
             if not fine:
                 return False
         return True

@@ -48,7 +48,7 @@ class Study:
         scope = {row[0]: ("ring", None, node) for row, node in zip(self.rows, self.nodes)}
         for row, node in zip(self.rows, self.nodes):
             found, sketch = walk.walked(row[1], scope, tuple(self.nodes))
-            self.graph.join(node, found)
+            self.graph.unify(node, found)
             self.sketches.append(sketch)
         self.graph.ordered(list(range(len(self.graph.links))))
         if max(self.graph.sizes_of(nodes_of(walk.asked)), default=0) > LARGEST:
@@ -88,7 +88,7 @@ class Study:
             return
         nodes = {str(node): node for node in self.graph.free_nodes(list(range(len(self.graph.links))))}
         for name in by:
-            self.graph.join(nodes[name], self.graph.taken(by[name], nodes))
+            self.graph.unify(nodes[name], self.graph.taken(by[name], nodes))
 
     def reduce(self, picks):
         """Bring the needs down to the least context, with picks where they are due."""

@@ -100,7 +100,7 @@ class Walk:
         function, function_sketch = self.walked(term[1], scope, around)
         argument, argument_sketch = self.walked(term[2], scope, around)
         found = self.graph.fresh()
-        self.graph.join(function, self.graph.arrow(argument, found))
+        self.graph.unify(function, self.graph.arrow(argument, found))
         return found, ("use", function_sketch, argument_sketch)
 
     def walked_given(self, term, scope, around):
@@ -116,14 +116,14 @@ class Walk:
         whole = self.graph.leaf(("con", data.name))
         for node in by.values():
             whole = self.graph.made(("apply", whole, node))
-        self.graph.join(subject, whole)
+        self.graph.unify(subject, whole)
         found = self.graph.fresh()
         arms = []
         for constructor, names, body in term[2]:
             fields = [self.graph.taken(kind, by) for kind in self.book.fields_of(constructor)]
             inner = with_parameters(scope, names, fields)
             node, body_sketch = self.walked(body, inner, around + tuple(fields))
-            self.graph.join(node, found)
+            self.graph.unify(node, found)
             arms.append((constructor, names, body_sketch))
         return found, ("match", sketch, tuple(arms))
 
@@ -151,7 +151,7 @@ class Walk:
         self.asked = []
         for name, node in zip(names, nodes):
             found, sketch = self.walked(terms[name], inner, around + tuple(nodes))
-            self.graph.join(node, found)
+            self.graph.unify(node, found)
             letting.sketches.append(sketch)
         letting.asked = different_needs(self.graph, self.asked)
         self.asked = outer

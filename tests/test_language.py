@@ -31,6 +31,10 @@ BARRED_WORDS = set(
     "namedtuple NamedTuple TypedDict TYPE_CHECKING abstractmethod".split()
 )
 FREE_TAKERS = set("any all min max sum sorted list tuple dict enumerate zip".split())
+# Methods that change what they are called off.
+CHANGERS = set("append clear extend insert pop remove reverse setdefault update sort add discard".split())
+# Methods and properties that change nothing, nor does anything that they call.
+QUIET = set("__eq__ __repr__ __str__ __len__".split())
 BUILTIN_ATTRIBUTES = set()
 for kind in (str, int, list, dict, set, bytes, tuple):
     BUILTIN_ATTRIBUTES |= {name for name in dir(kind) if not name.startswith("__")}
@@ -282,6 +286,50 @@ class TestLanguage(unittest.TestCase):
             return False
         return sum(isinstance(node.ctx, ast.Store) for node in uses) == 1
 
+    def test_equality_and_properties_change_nothing(self):
+        reached = self.reached_quietly()
+        self.assertIn("looks_of", [node.name for _, node in reached])
+        for path, node in reached:
+            for part in ast.walk(node):
+                if isinstance(part, (ast.Attribute, ast.Subscript)) and not isinstance(part.ctx, ast.Load):
+                    self.fail_at(path, part, "changes what it holds")
+                if isinstance(part, ast.AugAssign) and not isinstance(part.value, ast.Constant):
+                    self.fail_at(path, part, "may change what it was handed")
+                if isinstance(part, ast.Call):
+                    self.check_quiet_call(path, node, part)
+
+    def check_quiet_call(self, path, function, call):
+        """A call of a name that the function did not get or make, or of a method that changes nothing there."""
+        if isinstance(call.func, ast.Name):
+            self.assertNotIn(call.func.id, names_made_in(function), path)
+            return
+        self.assertIsInstance(call.func, ast.Attribute, path)
+        if call.func.attr in CHANGERS and not is_own_list(call.func.value, function):
+            self.fail_at(path, call, "may change what it was handed")
+
+    def reached_quietly(self):
+        """All that equality, lengths, texts and properties come to, where a call counts by its name alone."""
+        by_name, methods = {}, {}
+        for path, node in self.functions:
+            is_method = isinstance(node.parent, ast.ClassDef)
+            (methods if is_method else by_name).setdefault(node.name, []).append((path, node))
+            if is_method and node.name == "__init__":
+                by_name.setdefault(node.parent.name, []).append((path, node))
+        found = [row for row in self.functions if is_property(row[1])]
+        properties = {node.name for _, node in found}
+        found += [row for name in sorted(QUIET) for row in methods.get(name, [])]
+        for _, node in found:
+            for part in ast.walk(node):
+                rows = []
+                if isinstance(part, ast.Call) and isinstance(part.func, ast.Name):
+                    rows = by_name.get(part.func.id, [])
+                elif isinstance(part, ast.Call) and isinstance(part.func, ast.Attribute):
+                    rows = methods.get(part.func.attr, [])
+                elif isinstance(part, ast.Attribute) and part.attr in properties:
+                    rows = methods[part.attr]
+                found += [row for row in rows if row not in found]
+        return found
+
     def test_defaults_are_plain(self):
         for path, node in self.functions:
             for default in node.args.defaults + [row for row in node.args.kw_defaults if row is not None]:
@@ -296,6 +344,29 @@ def own_nodes(function):
         yield node
         if not isinstance(node, (ast.FunctionDef, ast.Lambda)):
             waiting.extend(ast.iter_child_nodes(node))
+
+
+def is_property(function):
+    """Whether a function is a property that is read."""
+    return any(getattr(row, "id", "") == "property" for row in function.decorator_list)
+
+
+def names_made_in(function):
+    """The parameters of a function and of all in it, and the names that are assigned there."""
+    found = {node.arg for node in ast.walk(function) if isinstance(node, ast.arg)}
+    nodes = [node for node in ast.walk(function) if isinstance(node, ast.Name)]
+    return found | {node.id for node in nodes if isinstance(node.ctx, ast.Store)}
+
+
+def is_own_list(value, function):
+    """Whether a value is a name that the function assigns nothing but new lists."""
+    if not isinstance(value, ast.Name):
+        return False
+    if value.id in [node.arg for node in ast.walk(function) if isinstance(node, ast.arg)]:
+        return False
+    stores = [node for node in ast.walk(function) if isinstance(node, ast.Name) and isinstance(node.ctx, ast.Store)]
+    parents = [node.parent for node in stores if node.id == value.id]
+    return all(isinstance(row, ast.Assign) and isinstance(row.value, (ast.List, ast.ListComp)) for row in parents)
 
 
 def bound_in(tree):
